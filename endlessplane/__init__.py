@@ -1,0 +1,1 @@
+"""Endlessplane: a floor without end, told by few numbers."""
