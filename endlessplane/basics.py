@@ -64,3 +64,9 @@ def require_pair(value, part):
     """Raise BadPart with this word unless the value is a tuple of two integers."""
     if not is_pair(value):
         raise BadPart(part)
+
+
+def require_colour(value):
+    """Raise BadNumber unless the value is a colour."""
+    if not is_colour(value):
+        raise BadNumber(value)

@@ -1,7 +1,7 @@
 """Carpets: the colours of all cells, told by a lattice and the colours at its places."""
 
-from endlessplane.basics import is_colour, is_row, require_pair
-from endlessplane.errors import BadIndex, BadNumber, BadPart, TooMany
+from endlessplane.basics import is_row, require_colour, require_pair
+from endlessplane.errors import BadIndex, BadPart, TooMany
 from endlessplane.periods import Lattice, require_lattice, require_lattice_numbers
 
 FIGURES = "0123456789"
@@ -74,8 +74,7 @@ class Carpet:
 
 def plain(colour):
     """The carpet of one colour."""
-    if not is_colour(colour):
-        raise BadNumber(colour)
+    require_colour(colour)
     return Carpet(1, 0, 1, [FIGURES[colour]])
 
 
@@ -89,8 +88,7 @@ def woven(lattice, colour_of):
         figures = []
         for x in range(lattice.a):
             colour = colour_of((x, y))
-            if not is_colour(colour):
-                raise BadNumber(colour)
+            require_colour(colour)
             figures.append(FIGURES[colour])
         rows.append("".join(figures))
     return Carpet(lattice.a, lattice.b, lattice.d, rows)

@@ -1,6 +1,12 @@
 """What several of the tests need."""
 
+import random
 import unittest
+
+from endlessplane.carpets import Carpet
+from endlessplane.errors import BadNumber, BadPart, NotSo
+from endlessplane.periods import Lattice
+from endlessplane.regions import Region
 
 # What is no integer, for arguments that ask for one.
 NO_INTEGERS = [None, True, False, "1", "", (1,), [1], {}, b"1", object()]
@@ -15,6 +21,87 @@ NO_PAPERS = [
 ]
 
 GREAT = 10 ** 59
+
+# What is no integer of 0 or more, no colour, no Carpet, no Region.
+NO_NUMBERS = NO_INTEGERS + [-1, -GREAT]
+NO_COLOURS = NO_NUMBERS + [10, GREAT]
+NO_CARPETS = [None, True, 5, "01", (2, 1, 1, ("01",)), ["01"], Lattice(2, 1, 1), Region()]
+NO_REGIONS = [None, True, 5, "", (), [], (0, 1, 0, 1), [(0, 1, 0, 1)], ((0, 1, ((0, 1),)),), {}, Lattice(2, 1, 1)]
+
+# For the name of an argument: the error of what does not fit, its attribute, the word (None: the value), such values.
+WRONG = {
+    "carpet": (BadPart, "part", "carpet", NO_CARPETS),
+    "region": (BadPart, "part", "region", NO_REGIONS),
+    "colour": (BadNumber, "number", None, NO_COLOURS),
+    "cell": (BadPart, "part", "cell", NO_PAIRS),
+    "n": (BadNumber, "number", None, NO_NUMBERS),
+    "y": (BadNumber, "number", None, NO_INTEGERS),
+}
+
+CHESS = Carpet(2, 1, 1, ["01"])
+COLUMNS = Carpet(2, 0, 1, ["01"])
+
+# The ends of regions by chance lie from -8 to 8, so a row or column that has -10 or 10 has no end there.
+WINDOW = range(-10, 11)
+CELLS = [(x, y) for y in WINDOW for x in WINDOW]
+
+
+def some_carpets(seed, many, sizes, signs="0001"):
+    """Carpets by chance, with a and d of these sizes."""
+    chance = random.Random(seed)
+    carpets = []
+    for _ in range(many):
+        a, d = chance.choice(sizes), chance.choice(sizes)
+        rows = ["".join(chance.choice(signs) for _ in range(a)) for _ in range(d)]
+        carpets.append(Carpet(a, chance.randrange(a), d, rows))
+    return carpets
+
+
+def some_span(chance, ends):
+    """Two ends by chance; each is missing as often as the share of None in these."""
+    while True:
+        low, high = [chance.choice(ends + list(range(-8, 9))) for _ in range(2)]
+        if low is None or high is None or low < high:
+            return low, high
+
+
+def some_boxes(chance, many, ends=()):
+    """Up to so many boxes by chance, with ends if no other ones are given beside these."""
+    return [some_span(chance, list(ends)) + some_span(chance, list(ends)) for _ in range(chance.randrange(many + 1))]
+
+
+def some_regions(seed, many, ends=()):
+    """Regions by chance, some of them put together of others."""
+    chance = random.Random(seed)
+    regions = []
+    for _ in range(many):
+        one, other = Region(some_boxes(chance, 5, ends)), Region(some_boxes(chance, 4, ends))
+        regions.append(chance.choice([one, one | other, one & other, one - other]))
+    return regions
+
+
+def box_has(box, cell):
+    """Whether a box has a cell, end by end."""
+    (x0, x1, y0, y1), (x, y) = box, cell
+    return (x0 is None or x0 <= x) and (x1 is None or x < x1) and (y0 is None or y0 <= y) and (y1 is None or y < y1)
+
+
+def runs_of(worths):
+    """The triples (low, high, worth) of what the numbers of the window have, without what is nothing."""
+    runs = []
+    for number in WINDOW:
+        if runs and runs[-1][2] == worths[number]:
+            runs[-1][1] = number + 1
+        else:
+            runs.append([number, number + 1, worths[number]])
+    runs[0][0], runs[-1][1] = None, None
+    return [tuple(run) for run in runs if run[2]]
+
+
+def slabs_by_hand(has):
+    """The slabs of the region whose cells in the window a function tells."""
+    rows = {y: tuple((low, high) for low, high, _ in runs_of({x: has((x, y)) for x in WINDOW})) for y in WINDOW}
+    return tuple(runs_of(rows))
 
 
 class Everything:
@@ -39,6 +126,38 @@ class PlaneCase(unittest.TestCase):
         self.assertIs(caught.exception.__class__, error)
         found = getattr(caught.exception, attribute)
         self.assertTrue(same(found, value), f"{found!r} is told for {value!r}")
+
+    def refuses(self, function, right, kinds=None):
+        """Check all that does not fit of a call, told as a dict of right arguments, where later ones do not fit either.
+
+        An argument whose kind is not told is of the kind of its name.
+        """
+        names = list(right)
+        kinds = {name: (kinds or {}).get(name, name) for name in names}
+        wrong = {name: WRONG[kinds[name]][3][-1] for name in names if kinds[name] in WRONG}
+        for index, name in enumerate(names):
+            if name not in wrong:
+                continue
+            error, attribute, word, values = WRONG[kinds[name]]
+            for value in values:
+                borne = value if word is None else word
+                told = {**right, name: value}
+                self.bears(error, attribute, borne, function, *told.values())
+                self.bears(error, attribute, borne, function, **told)
+                later = {other: wrong.get(other) for other in names[index + 1:]}
+                self.bears(error, attribute, borne, function, **{**told, **later})
+
+    def asks_for_an_end(self, function, right, later=()):
+        """Check that a region has to be finite, which is looked at ahead of the arguments told as later ones."""
+        for boxes in ([(None, 0, 0, 1)], [(0, None, 0, 1)], [(0, 1, None, 0)], [(0, 1, 0, None)],
+                      [(0, 1, 0, 1), (5, 6, 7, None)], [(None, None, None, None)]):
+            told = {**right, "region": Region(boxes)}
+            self.bears(NotSo, "word", "end", function, *told.values())
+            self.bears(NotSo, "word", "end", function, **{**told, **{name: None for name in later}})
+            for name in right:
+                if name in WRONG and name not in later and name != "region":
+                    error, attribute, word, _ = WRONG[name]
+                    self.bears(error, attribute, word, function, **{**told, name: None})
 
     def same(self, one, other):
         """Check that two values are equal and of one class."""

@@ -6,9 +6,7 @@ import unittest
 from endlessplane.carpets import Carpet, plain, woven
 from endlessplane.errors import BadIndex, BadNumber, BadPart, TooMany
 from endlessplane.periods import Lattice
-from tests.helpers import GREAT, NO_INTEGERS, NO_PAIRS, PlaneCase
-
-NO_COLOURS = NO_INTEGERS + [-1, 10, GREAT, -GREAT]
+from tests.helpers import GREAT, NO_COLOURS, NO_INTEGERS, NO_PAIRS, PlaneCase
 
 # The same chess three times, and its like of the other colour.
 CHESS = Carpet(2, 1, 1, ["01"])

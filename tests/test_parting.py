@@ -1,6 +1,5 @@
 """Cells that part carpets, and papers."""
 
-import random
 import unittest
 
 from endlessplane.carpets import Carpet, plain
@@ -9,23 +8,10 @@ from endlessplane.parting import (
     breaking_cell, least_paper, likeness_paper, parting_cell, shows_alike, shows_least, shows_parted,
 )
 from endlessplane.periods import Lattice, common_lattice
-from tests.helpers import GREAT, NO_PAIRS, NO_PAPERS, Everything, PlaneCase
+from tests.helpers import CHESS, GREAT, NO_CARPETS, NO_PAIRS, NO_PAPERS, Everything, PlaneCase, some_carpets
 
-CHESS = Carpet(2, 1, 1, ["01"])
 CHESS_IN_FOUR = Carpet(4, 0, 2, ["0101", "1010"])
 OTHER_CHESS = Carpet(2, 1, 1, ["10"])
-NO_CARPETS = [None, True, 5, "01", (2, 1, 1, ("01",)), ["01"], Lattice(2, 1, 1)]
-
-
-def by_chance(seed, many, sizes, signs="0001"):
-    """Carpets by chance, with a and d of these sizes."""
-    chance = random.Random(seed)
-    carpets = []
-    for _ in range(many):
-        a, d = chance.choice(sizes), chance.choice(sizes)
-        rows = ["".join(chance.choice(signs) for _ in range(a)) for _ in range(d)]
-        carpets.append(Carpet(a, chance.randrange(a), d, rows))
-    return carpets
 
 
 def block_of(one, other):
@@ -47,7 +33,7 @@ def parting_by_hand(one, other):
 
 class PartingTest(PlaneCase):
     def test_parting_cell(self):
-        carpets = by_chance(21, 30, [1, 2, 3, 4]) + [plain(0), plain(1), CHESS, CHESS_IN_FOUR, OTHER_CHESS]
+        carpets = some_carpets(21, 30, [1, 2, 3, 4]) + [plain(0), plain(1), CHESS, CHESS_IN_FOUR, OTHER_CHESS]
         for one in carpets:
             for other in carpets:
                 cell = parting_cell(one, other)
@@ -75,7 +61,7 @@ class PartingTest(PlaneCase):
         self.same(parting_cell(one, other), (0, 11))
 
     def test_breaking_cell(self):
-        for carpet in by_chance(22, 20, [1, 2, 3, 4, 6]) + [CHESS_IN_FOUR]:
+        for carpet in some_carpets(22, 20, [1, 2, 3, 4, 6]) + [CHESS_IN_FOUR]:
             for sy in range(-4, 5, 2):
                 for sx in range(-5, 6):
                     broken = [(x, y) for y in range(carpet.d) for x in range(carpet.a)
@@ -105,7 +91,7 @@ class PartingTest(PlaneCase):
 
 class LikenessPaperTest(PlaneCase):
     def test_papers_of_the_library(self):
-        carpets = by_chance(23, 14, [1, 2, 3]) + [plain(0), plain(5), CHESS, CHESS_IN_FOUR, OTHER_CHESS]
+        carpets = some_carpets(23, 14, [1, 2, 3]) + [plain(0), plain(5), CHESS, CHESS_IN_FOUR, OTHER_CHESS]
         for one in carpets:
             for other in carpets:
                 paper = likeness_paper(one, other)
@@ -167,7 +153,7 @@ class LikenessPaperTest(PlaneCase):
 
 class LeastPaperTest(PlaneCase):
     def test_papers_of_the_library(self):
-        for carpet in by_chance(24, 30, [1, 2, 3, 4, 6]) + [plain(4), CHESS, CHESS_IN_FOUR]:
+        for carpet in some_carpets(24, 30, [1, 2, 3, 4, 6]) + [plain(4), CHESS, CHESS_IN_FOUR]:
             paper = least_paper(carpet)
             least = carpet.least()
             cells = {place: breaking_cell(carpet, place) for place in least.places() if place != (0, 0)}
