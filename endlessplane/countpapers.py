@@ -2,8 +2,8 @@
 
 from endlessplane.basics import is_box, is_colour, is_from, is_pair, is_paper, is_whole, require_colour
 from endlessplane.carpets import FIGURES, require_carpet, row_text
-from endlessplane.counts import count_of, require_counted
-from endlessplane.cuts import boxes_of, is_finite, require_finite, size_of
+from endlessplane.counts import count_of, require_finite_counted
+from endlessplane.cuts import boxes_of, is_finite, size_of
 from endlessplane.errors import BadNumber, BadPart
 from endlessplane.nthcells import cut_ahead, nth_of_colour
 from endlessplane.regions import require_region, slabs_of_boxes
@@ -35,16 +35,14 @@ def pattern_count(carpet, block, colour):
 
 def count_paper(carpet, region, colour):
     """The paper that shows the count of the colour in a finite region."""
-    require_counted(carpet, region, colour)
-    require_finite(region)
+    require_finite_counted(carpet, region, colour)
     blocks = [block for box in boxes_of(region) for block in _blocks_of(carpet, box)]
     return ("count", colour, count_of(carpet, region, colour), tuple(blocks))
 
 
 def nth_paper(carpet, region, colour, n):
     """The paper that shows which cell of the colour in a finite region is the n-th one."""
-    require_counted(carpet, region, colour)
-    require_finite(region)
+    require_finite_counted(carpet, region, colour)
     if not is_from(n, 0) or n >= count_of(carpet, region, colour):
         raise BadNumber(n)
     cell = nth_of_colour(carpet, region, colour, n)

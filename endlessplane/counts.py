@@ -21,6 +21,10 @@ class ColourRows:
         """The list of the y from y0 on below y1 up to where the rows come again."""
         return list(range(y0, min(int(y1), y0 + self.again)))
 
+    def rows_of(self, region):
+        """The list of the pairs (y, stretches) of the rows of a finite region, of each slab the first ones."""
+        return [(y, xs) for y0, y1, xs in region.slabs() for y in self.first_rows(y0, y1)]
+
     def many(self, y, xs):
         """How many spots the stretches of a row have, None if there is no end of them."""
         if not self._spots[self._row_index(y)]:
@@ -71,31 +75,27 @@ def counts_of(carpet, region):
 
 def richest_row(carpet, region, colour):
     """The pair (count, y) of the least row in which the region has the most cells of the colour, or (0, None)."""
-    require_counted(carpet, region, colour)
-    require_finite(region)
+    require_finite_counted(carpet, region, colour)
     rows = ColourRows(carpet, colour)
     best = (0, None)
-    for y0, y1, xs in region.slabs():
-        for y in rows.first_rows(y0, y1):
-            many = rows.many(y, xs)
-            if many > best[0]:
-                best = (many, y)
+    for y, xs in rows.rows_of(region):
+        many = rows.many(y, xs)
+        if many > best[0]:
+            best = (many, y)
     return best
 
 
 def longest_run(carpet, region, colour):
     """The pair (length, cell) of the first of the longest runs of the colour in the region, or (0, None)."""
-    require_counted(carpet, region, colour)
-    require_finite(region)
+    require_finite_counted(carpet, region, colour)
     rows = ColourRows(carpet, colour)
     best = (0, None)
-    for y0, y1, xs in region.slabs():
-        for y in rows.first_rows(y0, y1):
-            for x0, x1 in xs:
-                # A stretch that is not longer has no longer run.
-                if x1 - x0 > best[0]:
-                    length, x = _longest_in(rows.spotted, y, x0, x1)
-                    best = (length, (x, y)) if length > best[0] else best
+    for y, xs in rows.rows_of(region):
+        for x0, x1 in xs:
+            # A stretch that is not longer has no longer run.
+            if x1 - x0 > best[0]:
+                length, x = _longest_in(rows.spotted, y, x0, x1)
+                best = (length, (x, y)) if length > best[0] else best
     return best
 
 
@@ -111,6 +111,12 @@ def require_counted(carpet, region, colour):
     require_carpet(carpet)
     require_region(region)
     require_colour(colour)
+
+
+def require_finite_counted(carpet, region, colour):
+    """Likewise, and NotSo unless the region has an end."""
+    require_counted(carpet, region, colour)
+    require_finite(region)
 
 
 def slab_count(rows, slab):

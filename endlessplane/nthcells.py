@@ -2,15 +2,14 @@
 
 from endlessplane.basics import require_from, require_pair
 from endlessplane.carpets import require_carpet
-from endlessplane.counts import ColourRows, count_of, require_counted, slab_count
+from endlessplane.counts import ColourRows, count_of, require_finite_counted, slab_count
 from endlessplane.cuts import require_finite
 from endlessplane.regions import Region, require_region
 
 
 def nth_of_colour(carpet, region, colour, n):
     """The cell number n of the colour in a finite region, by y, then x, or None."""
-    require_counted(carpet, region, colour)
-    require_finite(region)
+    require_finite_counted(carpet, region, colour)
     require_from(n, 0)
     rows = ColourRows(carpet, colour)
     ahead = 0
@@ -58,8 +57,7 @@ def cut_ahead(region, cell):
 
 def _require_asked(carpet, region, colour, cell):
     """Raise an error unless these are a Carpet, a finite Region, a colour and a cell."""
-    require_counted(carpet, region, colour)
-    require_finite(region)
+    require_finite_counted(carpet, region, colour)
     require_pair(cell, "cell")
 
 

@@ -4,6 +4,7 @@ import random
 import unittest
 
 from endlessplane.carpets import Carpet
+from endlessplane.cuts import cells_of
 from endlessplane.errors import BadNumber, BadPart, NotSo
 from endlessplane.periods import Lattice
 from endlessplane.regions import Region
@@ -40,6 +41,16 @@ WRONG = {
 
 CHESS = Carpet(2, 1, 1, ["01"])
 COLUMNS = Carpet(2, 0, 1, ["01"])
+
+# The least y of 1 or more such that (0, y) is a period is 144 for both; (0, 1) leads to a neighbour in the first one.
+SLANTED = Carpet(144, 1, 1, ["0" * 143 + "1"])
+SPARSE = Carpet(12, 5, 12, ["0" * 12] * 11 + ["0" * 11 + "1"])
+
+THREE = Region([(0, 3, 0, 3)])
+
+# Boxes far from one another, and a hole.
+FAR = Region([(-10 ** 30, 10 ** 30, 0, 10 ** 29), (3, 5, 10 ** 29, 10 ** 31), (-9, 10 ** 28, -10 ** 30, -5)])
+FAR = FAR - Region([(-500, 700, 20, 10 ** 20)])
 
 # The ends of regions by chance lie from -8 to 8, so a row or column that has -10 or 10 has no end there.
 WINDOW = range(-10, 11)
@@ -80,6 +91,19 @@ def some_regions(seed, many, ends=()):
     return regions
 
 
+def stairs():
+    """A region of 180 boxes, two in every other row."""
+    region = Region()
+    for at in range(90):
+        region = region | Region([(at, 3 * at + 1, 2 * at, 2 * at + 1), (-at - 2, -1, 2 * at, 2 * at + 1)])
+    return region
+
+
+def cells_with(carpet, region, colour):
+    """The cells of the colour in a finite region, by y, then x."""
+    return [cell for cell in cells_of(region) if carpet.colour(cell) == colour]
+
+
 def box_has(box, cell):
     """Whether a box has a cell, end by end."""
     (x0, x1, y0, y1), (x, y) = box, cell
@@ -111,6 +135,13 @@ class Everything:
         return True
 
 
+class Touchy:
+    """A value that cannot be compared."""
+
+    def __eq__(self, other):
+        raise RuntimeError("compared")
+
+
 def same(one, other):
     """Whether two values are equal and of one class, so that True is not 1."""
     return one is other or (one.__class__ is other.__class__ and one == other)
@@ -119,7 +150,7 @@ def same(one, other):
 class PlaneCase(unittest.TestCase):
     """A test case that looks at what an error bears."""
 
-    def bears(self, error, attribute, value, function, *told, **named):
+    def bears(self, error, attribute, value, function, /, *told, **named):
         """Check that the call raises just this error, which has this value as this attribute."""
         with self.assertRaises(error) as caught:
             function(*told, **named)

@@ -6,23 +6,17 @@ from endlessplane.carpets import Carpet, plain
 from endlessplane.counts import count_of, counts_of, longest_run, richest_row, row_count
 from endlessplane.cuts import cells_of, size_of
 from endlessplane.regions import Region
-from tests.helpers import CELLS, CHESS, COLUMNS, GREAT, PlaneCase, some_carpets, some_regions
+from tests.helpers import (
+    CELLS, CHESS, COLUMNS, GREAT, SLANTED, THREE, PlaneCase, cells_with, some_carpets, some_regions, stairs,
+)
 
-THREE = Region([(0, 3, 0, 3)])
 RIGHT = {"carpet": CHESS, "region": THREE, "colour": 0}
 CARPETS = some_carpets(71, 18, [1, 2, 3, 4, 5], "0012") + [CHESS, COLUMNS, plain(0), plain(2)]
 FINITE = some_regions(72, 18) + [Region(), THREE]
 ENDLESS = some_regions(73, 30, [None] * 4) + [~Region(), ~THREE]
 
 # A carpet with one cell of the colour 1 in its 144 places, of which only (12, 0) and (0, 12) are shifts.
-SPARSE = Carpet(12, 0, 12, ["0" * 12] * 11 + ["0" * 11 + "1"])
-# The least y of 1 or more such that (0, y) is a period is 144.
-SLANTED = Carpet(144, 1, 1, ["0" * 143 + "1"])
-
-
-def cells_with(carpet, region, colour):
-    """The cells of the colour in a finite region, by y, then x."""
-    return [cell for cell in cells_of(region) if carpet.colour(cell) == colour]
+SQUARE = Carpet(12, 0, 12, ["0" * 12] * 11 + ["0" * 11 + "1"])
 
 
 def richest_by_hand(cells):
@@ -87,13 +81,13 @@ class CountTest(PlaneCase):
         # A narrow column meets the slanted cells at last, a row that is short never needs to.
         self.assertIsNone(count_of(SLANTED, Region([(0, 1, None, 0)]), 1))
         self.assertIsNone(count_of(SLANTED, Region([(0, None, 0, 1)]), 1))
-        self.assertIsNone(count_of(SPARSE, Region([(11, 12, 0, None)]), 1))
-        self.same(count_of(SPARSE, Region([(0, 11, 0, None), (-1, 0, -1, 0)]), 1), 1)
-        self.same(count_of(SPARSE, Region([(None, None, 0, 11), (0, 36, 11, 12)]), 1), 3)
+        self.assertIsNone(count_of(SQUARE, Region([(11, 12, 0, None)]), 1))
+        self.same(count_of(SQUARE, Region([(0, 11, 0, None), (-1, 0, -1, 0)]), 1), 1)
+        self.same(count_of(SQUARE, Region([(None, None, 0, 11), (0, 36, 11, 12)]), 1), 3)
 
     def test_great_numbers(self):
         great = 10 ** 30
-        self.same(count_of(SPARSE, Region([(0, 12 * great, 0, 12 * great)]), 1), great * great)
+        self.same(count_of(SQUARE, Region([(0, 12 * great, 0, 12 * great)]), 1), great * great)
         self.same(count_of(SLANTED, Region([(-great, 143 * great, 5, 149)]), 1), 144 * great)
         self.same(count_of(CHESS, Region([(0, GREAT + 1, 0, GREAT + 1)]), 0), (GREAT + 1) ** 2 // 2 + 1)
         self.same(count_of(CHESS, Region([(-GREAT - 1, 0, -GREAT - 1, 0)]), 1), (GREAT + 1) ** 2 // 2)
@@ -123,9 +117,7 @@ class CountTest(PlaneCase):
                 self.same(counts_of(carpet, box), [6 * share for share in carpet.shares()])
 
     def test_more_than_forty_boxes(self):
-        region = Region()
-        for at in range(90):
-            region = region | Region([(at, 3 * at + 1, 2 * at, 2 * at + 1), (-at - 2, -1, 2 * at, 2 * at + 1)])
+        region = stairs()
         for carpet in CARPETS[::5] + [SLANTED]:
             for colour in (0, 1):
                 self.same(count_of(carpet, region, colour), len(cells_with(carpet, region, colour)))
@@ -156,7 +148,7 @@ class RichestRowTest(PlaneCase):
 
     def test_great_numbers(self):
         great = 10 ** 30
-        self.same(richest_row(SPARSE, Region([(0, 24, -great, great)]), 1), (2, 11 - (great + 11) // 12 * 12))
+        self.same(richest_row(SQUARE, Region([(0, 24, -great, great)]), 1), (2, 11 - (great + 11) // 12 * 12))
         self.same(richest_row(SLANTED, Region([(143, 144, 1, great)]), 1), (1, 144))
         self.same(richest_row(SLANTED, Region([(143, 144, 1, 144)]), 1), (0, None))
         self.same(richest_row(CHESS, Region([(1, 2 * great, -great, great)]), 0), (great, 1 - great))
@@ -193,10 +185,11 @@ class LongestRunTest(PlaneCase):
 
     def test_great_numbers(self):
         great = 10 ** 30
-        self.same(longest_run(plain(8), Region([(0, 5, -great, great), (-great, great, 7, 9)]), 8), (2 * great, (-great, 7)))
-        self.same(longest_run(SPARSE, Region([(1, great, 11, great)]), 0), (great - 1, (1, 12)))
-        self.same(longest_run(SPARSE, Region([(1, great, 11, 12)]), 0), (11, (12, 11)))
-        self.same(longest_run(SPARSE, Region([(1, great, 11, 12)]), 1), (1, (11, 11)))
+        cross = Region([(0, 5, -great, great), (-great, great, 7, 9)])
+        self.same(longest_run(plain(8), cross, 8), (2 * great, (-great, 7)))
+        self.same(longest_run(SQUARE, Region([(1, great, 11, great)]), 0), (great - 1, (1, 12)))
+        self.same(longest_run(SQUARE, Region([(1, great, 11, 12)]), 0), (11, (12, 11)))
+        self.same(longest_run(SQUARE, Region([(1, great, 11, 12)]), 1), (1, (11, 11)))
         self.same(longest_run(SLANTED, Region([(-great, great, 0, 1)]), 0), (143, (144 - great // 144 * 144 - 144, 0)))
         self.same(longest_run(Carpet(2, 0, 2, ["01", "00"]), Region([(0, 3, -great, 1), (9, 12, 0, great)]), 0)[0], 3)
 

@@ -5,9 +5,17 @@ import inspect
 import os
 import unittest
 
-from endlessplane import carpets, errors, lines, parting, periods, stretches
+from endlessplane import (
+    carpets, countpapers, counts, cuts, errors, laying, lines, nthcells, parting, periods, regions, stretches,
+)
 from endlessplane.carpets import Carpet
+from endlessplane.counts import counts_of, longest_run, richest_row
+from endlessplane.cuts import pieces, size_of
+from endlessplane.laying import laid, laid_over, pairs_met, recolouring, showings, together
 from endlessplane.lines import both_remainders, in_box, remainder_of
+from endlessplane.nthcells import nth_of_colour, place_in
+from endlessplane.periods import Lattice
+from endlessplane.regions import Region
 from endlessplane.stretches import Spread, Stretch
 
 FUNCTIONS = {
@@ -24,6 +32,29 @@ FUNCTIONS = {
         "parting_cell": "one other", "breaking_cell": "carpet shift", "likeness_paper": "one other",
         "shows_alike": "one other value", "shows_parted": "one other value", "least_paper": "carpet",
         "shows_least": "carpet lattice value",
+    },
+    laying: {
+        "recoloured": "carpet colours", "laid": "one other table", "together": "carpets", "pairs_met": "one other",
+        "recolouring": "one other", "laid_over": "carpets clear", "shown_at": "carpets clear cell",
+        "showings": "carpets clear", "hidden": "carpets clear", "shown_carpet": "carpets clear index",
+    },
+    regions: {"of_slabs": "slabs", "row_at": "region y"},
+    cuts: {
+        "is_finite": "region", "size_of": "region", "hull_of": "region", "boxes_of": "region", "nth_cell": "region n",
+        "place_of": "region cell", "cells_of": "region", "pieces": "regions", "region_parting": "one other",
+    },
+    counts: {
+        "count_of": "carpet region colour", "counts_of": "carpet region", "richest_row": "carpet region colour",
+        "longest_run": "carpet region colour", "row_count": "carpet region colour y",
+    },
+    nthcells: {
+        "nth_of_colour": "carpet region colour n", "ahead_of": "carpet region colour cell",
+        "place_in": "carpet region cell", "next_behind": "carpet region colour cell",
+        "last_ahead": "carpet region colour cell",
+    },
+    countpapers: {
+        "is_block": "carpet value", "pattern_count": "carpet block colour", "count_paper": "carpet region colour",
+        "nth_paper": "carpet region colour n", "shows_count": "carpet region value", "shows_nth": "carpet region value",
     },
 }
 
@@ -51,6 +82,12 @@ CLASSES = {
         "Carpet": {
             "__init__": "a b d rows", "colour": "cell", "lattice": "", "least": "", "normal": "", "in_normal": "",
             "shares": "", "moved_by": "shift", "is_period": "shift", "__eq__": None,
+        },
+    },
+    regions: {
+        "Region": {
+            "__init__": "boxes=()", "slabs": "", "__contains__": None, "__or__": None, "__and__": None, "__sub__": None,
+            "__invert__": None, "__le__": None, "__eq__": None,
         },
     },
     errors: {
@@ -86,6 +123,28 @@ class ExamplesTest(unittest.TestCase):
              chess == Carpet(2, 1, 1, ["01"])),
             ((2, 1, 1, ('01',)), 1, True, True))
 
+    def test_carpets_laid(self):
+        chess, columns = Carpet(2, 1, 1, ["01"]), Carpet(2, 0, 1, ["01"])
+        unlike = [[int(one != other) for other in range(10)] for one in range(10)]
+        self.assertEqual(
+            (together([chess, columns]), pairs_met(chess, columns), recolouring(chess, columns),
+             laid(chess, columns, unlike).normal(), showings([chess, columns], [0])),
+            (Lattice(2, 0, 2), {(0, 0): 1, (0, 1): 1, (1, 0): 1, (1, 1): 1}, None, (1, 0, 2, ("0", "1")), [2, 2]))
+        over = laid_over([chess, columns], [0])
+        self.assertEqual([place for place in Lattice(2, 0, 2).places() if over.colour(place) == 0], [(0, 0)])
+
+    def test_regions(self):
+        two = Region([(0, 2, 0, 2), (1, 3, 1, 3)])
+        self.assertEqual(
+            (two.slabs(), size_of(two), size_of(~two), (5, 5) in ~two, len(pieces([two]))),
+            (((0, 1, ((0, 2),)), (1, 2, ((0, 3),)), (2, 3, ((1, 3),))), 7, None, True, 11))
+
+    def test_counts(self):
+        chess, three = Carpet(2, 1, 1, ["01"]), Region([(0, 3, 0, 3)])
+        self.assertEqual(
+            (counts_of(chess, three)[:3], richest_row(chess, three, 0), longest_run(chess, three, 1),
+             nth_of_colour(chess, three, 0, 3), place_in(chess, three, (1, 1))),
+            ([5, 4, 0], (2, 0), (1, (1, 0)), (0, 2), 2))
 
     def test_readme(self):
         folder = os.path.dirname(os.path.dirname(os.path.abspath(__file__)))

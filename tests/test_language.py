@@ -79,6 +79,22 @@ def is_plainly_sorted(call):
     return isinstance(told, ast.Call)
 
 
+def is_plain_number(node):
+    """Whether an expression is plainly a number: written out, of a call that gives one, or a sum of such."""
+    if isinstance(node, ast.BinOp):
+        return is_plain_number(node.left) and is_plain_number(node.right)
+    if isinstance(node, ast.Call):
+        return isinstance(node.func, ast.Name) and node.func.id in ("int", "len", "ord")
+    return isinstance(node, ast.Constant) and isinstance(node.value, int)
+
+
+def is_plainly_compared(call):
+    """Whether what min or max takes is plainly numbers; of two arguments one is enough."""
+    if len(call.args) == 1:
+        return isinstance(call.args[0], ast.ListComp) and is_plain_number(call.args[0].elt)
+    return any(is_plain_number(told) for told in call.args)
+
+
 class LanguageTest(unittest.TestCase):
     def setUp(self):
         self.trees = {name: ast.parse(text_of(name)) for name in package_files()}
@@ -191,6 +207,8 @@ class LanguageTest(unittest.TestCase):
                 self.assertFalse(any(isinstance(told, ast.GeneratorExp) for told in node.args), place)
             if isinstance(node.func, ast.Name) and node.func.id == "sorted":
                 self.assertTrue(is_plainly_sorted(node), place)
+            if isinstance(node.func, ast.Name) and node.func.id in ("min", "max"):
+                self.assertTrue(is_plainly_compared(node), place)
             if isinstance(node.func, ast.Attribute):
                 self.assertNotEqual(node.func.attr, "sort", place)
 

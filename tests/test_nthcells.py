@@ -2,23 +2,18 @@
 
 import unittest
 
-from endlessplane.carpets import Carpet, plain
+from endlessplane.carpets import plain
 from endlessplane.counts import count_of
 from endlessplane.cuts import cells_of
 from endlessplane.nthcells import ahead_of, last_ahead, next_behind, nth_of_colour, place_in
 from endlessplane.regions import Region
-from tests.helpers import CELLS, CHESS, COLUMNS, GREAT, PlaneCase, some_carpets, some_regions
+from tests.helpers import (
+    CELLS, CHESS, COLUMNS, FAR, GREAT, SLANTED, SPARSE, THREE, PlaneCase, cells_with, some_carpets, some_regions,
+)
 
-THREE = Region([(0, 3, 0, 3)])
 RIGHT = {"carpet": CHESS, "region": THREE, "colour": 0}
 CARPETS = some_carpets(81, 12, [1, 2, 3, 4, 5], "0012") + [CHESS, COLUMNS, plain(0)]
 REGIONS = some_regions(82, 14) + [Region(), THREE]
-SLANTED = Carpet(144, 1, 1, ["0" * 143 + "1"])
-SPARSE = Carpet(12, 5, 12, ["0" * 12] * 11 + ["0" * 11 + "1"])
-
-# Boxes far from one another, and a hole.
-FAR = Region([(-10 ** 30, 10 ** 30, 0, 10 ** 29), (3, 5, 10 ** 29, 10 ** 31), (-9, 10 ** 28, -10 ** 30, -5)])
-FAR = FAR - Region([(-500, 700, 20, 10 ** 20)])
 
 
 def is_ahead(one, other):
@@ -30,9 +25,8 @@ class NthTest(PlaneCase):
     def test_by_hand(self):
         for carpet in CARPETS:
             for region in REGIONS:
-                cells = list(cells_of(region))
                 for colour in range(3):
-                    wanted = [cell for cell in cells if carpet.colour(cell) == colour]
+                    wanted = cells_with(carpet, region, colour)
                     self.same([nth_of_colour(carpet, region, colour, n) for n in range(len(wanted))], wanted)
                     for n in (len(wanted), len(wanted) + 1, GREAT):
                         self.assertIsNone(nth_of_colour(carpet, region, colour, n))
@@ -71,7 +65,7 @@ class PlaceTest(PlaneCase):
         for carpet in CARPETS[::2]:
             for region in REGIONS[::2]:
                 cells = list(cells_of(region))
-                for cell in CELLS[::7]:
+                for cell in CELLS[::13]:
                     colour = carpet.colour(cell)
                     like = [other for other in cells if carpet.colour(other) == colour]
                     self.same(place_in(carpet, region, cell), like.index(cell) if cell in like else None)

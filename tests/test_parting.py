@@ -44,7 +44,8 @@ class PartingTest(PlaneCase):
 
     def test_parting_late(self):
         self.same(parting_cell(Carpet(143, 0, 1, ["0" * 142 + "1"]), Carpet(144, 5, 1, ["0" * 143 + "1"])), (142, 0))
-        self.same(parting_cell(Carpet(1, 0, 143, ["0"] * 142 + ["1"]), Carpet(1, 0, 144, ["0"] * 143 + ["1"])), (0, 142))
+        one, other = Carpet(1, 0, 143, ["0"] * 142 + ["1"]), Carpet(1, 0, 144, ["0"] * 143 + ["1"])
+        self.same(parting_cell(one, other), (0, 142))
         one = Carpet(12, 0, 12, ["0" * 12] * 11 + ["0" * 11 + "1"])
         other = Carpet(12, 7, 12, ["0" * 12] * 11 + ["0" * 11 + "1"])
         self.same(parting_cell(one, plain(0)), (11, 11))
@@ -122,9 +123,10 @@ class LikenessPaperTest(PlaneCase):
                 ("alike", 2, 3, 1, ("01",)), ("alike", 2, -1, 1, ("01",)), ("alike", 0, 0, 1, ("",)),
                 ("alike", 2, 1, 1, ("0",)), ("alike", 2, 1, 1, (b"01",)), ("alike", 2, 1, 1, (None,)),
                 ("alike", 2, 1, 1, (("0", "1"),)), ("alike", "2", 1, 1, ("01",)), ("alike", 2, 1, 1, {0: "01"}),
-                ("alike", 146, 1, 1, ("01" * 73,)), ("alike", 2, 0, 74, ("01", "10") * 37), ("alike", (2, 1, 1, ("01",))),
-                ("parted", (0, 0)), ("alike", 2, 1, 0, ()), ("alike", 2, 1, None, ("01",)), Everything(),
-                (Everything(), 2, 1, 1, ("01",)), ("alike", 2, 1, 1, Everything()), ("alike", 2, 1, 1, (Everything(),)),
+                ("alike", 146, 1, 1, ("01" * 73,)), ("alike", 2, 0, 74, ("01", "10") * 37),
+                ("alike", (2, 1, 1, ("01",))), ("parted", (0, 0)), ("alike", 2, 1, 0, ()),
+                ("alike", 2, 1, None, ("01",)), Everything(), (Everything(), 2, 1, 1, ("01",)),
+                ("alike", 2, 1, 1, Everything()), ("alike", 2, 1, 1, (Everything(),)),
                 ("alike", Everything(), 1, 1, ("01",)), ("alike", 2, Everything(), 1, ("01",))]:
             self.assertIs(shows_alike(CHESS, CHESS_IN_FOUR, value), False)
         self.assertIs(shows_alike(plain(1), plain(1), ("alike", True, 0, 1, ("1",))), False)

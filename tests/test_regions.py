@@ -151,7 +151,8 @@ class TogetherTest(PlaneCase):
             had, others = {cell for cell in CELLS if cell in one}, {cell for cell in CELLS if cell in other}
             slabs = [slabs_by_hand(lambda cell: cell in cells)
                      for cells in (had | others, had & others, had - others, set(CELLS) - had)]
-            self.assertEqual([(one | other).slabs(), (one & other).slabs(), (one - other).slabs(), (~one).slabs()], slabs)
+            made = [one | other, one & other, one - other, ~one]
+            self.assertEqual([region.slabs() for region in made], slabs)
             self.assertIs(one <= other, not slabs[2])
             self.assertIs(one == other, not slabs[2] and not (other - one).slabs())
 
