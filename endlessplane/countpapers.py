@@ -1,6 +1,6 @@
 """Papers that show how many cells of a region have a colour, and which one is the n-th."""
 
-from endlessplane.basics import is_box, is_colour, is_from, is_pair, is_paper, is_whole, require_colour
+from endlessplane.basics import is_box, is_colour, is_from, is_paper, is_whole, require_colour
 from endlessplane.carpets import FIGURES, require_carpet, row_text
 from endlessplane.counts import count_of, require_finite_counted
 from endlessplane.cuts import boxes_of, is_finite, size_of
@@ -71,7 +71,7 @@ def shows_nth(carpet, region, value):
     if not is_finite(region) or not is_paper(value, "nth", 5):
         return False
     _, colour, n, cell, blocks = value
-    if not is_colour(colour) or not is_pair(cell) or cell not in region or carpet.colour(cell) != colour:
+    if not is_colour(colour) or cell not in region or carpet.colour(cell) != colour:
         return False
     return shows_count(carpet, cut_ahead(region, cell), ("count", colour, n, blocks))
 

@@ -1,6 +1,6 @@
 """How many cells of a region have a colour of a carpet; rows and runs of such cells."""
 
-from endlessplane.basics import require_colour, require_whole
+from endlessplane.basics import require_colour
 from endlessplane.carpets import FIGURES, require_carpet, row_text
 from endlessplane.cuts import require_finite
 from endlessplane.laying import recoloured
@@ -102,8 +102,8 @@ def longest_run(carpet, region, colour):
 def row_count(carpet, region, colour, y):
     """How many cells of the colour the region has in one row, None if there is no end of them."""
     require_counted(carpet, region, colour)
-    require_whole(y)
-    return ColourRows(carpet, colour).many(y, row_at(region, y))
+    xs = row_at(region, y)
+    return ColourRows(carpet, colour).many(y, xs)
 
 
 def require_counted(carpet, region, colour):
