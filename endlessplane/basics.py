@@ -70,3 +70,27 @@ def require_colour(value):
     """Raise BadNumber unless the value is a colour."""
     if not is_colour(value):
         raise BadNumber(value)
+
+
+def cell_along(cell, step, times):
+    """The cell to which a step leads from a cell, if it is done so many times."""
+    return (cell[0] + times * step[0], cell[1] + times * step[1])
+
+
+def least_that(low, high, fits):
+    """The least integer from low on that fits, by a function, high if none below fits; all behind one that fits do."""
+    while low < high:
+        middle = (low + high) // 2
+        if fits(middle):
+            high = middle
+        else:
+            low = middle + 1
+    return low
+
+
+def in_order(cells):
+    """The list of unlike cells by y, then x."""
+    rows = {}
+    for x, y in cells:
+        rows.setdefault(y, []).append(x)
+    return [(x, y) for y in sorted([int(row) for row in rows]) for x in sorted([int(column) for column in rows[y]])]

@@ -3,7 +3,6 @@
 from endlessplane.basics import is_pair, is_paper, require_pair
 from endlessplane.carpets import MOST_PLACES, Carpet, require_carpet, row_text
 from endlessplane.errors import BadIndex, BadPart, TooMany
-from endlessplane.lines import greatest_divisor
 from endlessplane.periods import require_lattice
 
 
@@ -11,15 +10,21 @@ def parting_cell(one, other):
     """The least cell, by y, then x, from 0 on, of unlike colours in both, or None."""
     require_carpet(one)
     require_carpet(other)
+    return parting_in_box(one, other, (0, None, 0, None))
+
+
+def parting_in_box(one, other, box):
+    """A cell of a box that has unlike colours in both, or None; the least one, by y, then x, if it has low ends."""
     if one == other:
         return None
     # Rows that come again after a and after a' cells are the same if they agree on a + a' of them;
-    # likewise columns. So unlike cells are among these.
-    wide = one.a + other.a
-    for y in range(_column_length(one) + _column_length(other)):
-        texts = row_text(one, (0, y), wide), row_text(other, (0, y), wide)
+    # likewise columns. So if the box has unlike cells, some are among these.
+    x0, x1 = _some_of(box[0], box[1], one.least().a + other.least().a)
+    y0, y1 = _some_of(box[2], box[3], one.least().order((0, 1)) + other.least().order((0, 1)))
+    for y in range(y0, y1):
+        texts = row_text(one, (x0, y), x1 - x0), row_text(other, (x0, y), x1 - x0)
         if texts[0] != texts[1]:
-            return (_unlike_index(texts[0], texts[1]), y)
+            return (x0 + unlike_index(texts[0], texts[1]), y)
     return None
 
 
@@ -90,14 +95,16 @@ def _breaks(carpet, lattice, place, cell):
     return carpet.colour(cell) != carpet.colour((cell[0] + place[0], cell[1] + place[1]))
 
 
-def _column_length(carpet):
-    """After how many cells each column comes again: (0, this) is a shift of the told lattice."""
-    return carpet.d * (carpet.a // greatest_divisor(carpet.a, carpet.b))
-
-
-def _unlike_index(one, other):
+def unlike_index(one, other):
     """The least index at which two strings of one length, that are not equal, have unlike signs."""
     index = 0
     while one[index] == other[index]:
         index = index + 1
     return index
+
+
+def _some_of(low, high, many):
+    """The ends of so many neighbouring integers from low on below high, beginning at low if it is one; or of all."""
+    if low is None:
+        return (0, many) if high is None else (high - many, high)
+    return (low, low + many if high is None else min(int(high), low + many))

@@ -6,8 +6,10 @@ import unittest
 from endlessplane.carpets import Carpet
 from endlessplane.cuts import cells_of
 from endlessplane.errors import BadNumber, BadPart, NotSo
+from endlessplane.floors import Floor
 from endlessplane.periods import Lattice
 from endlessplane.regions import Region
+from endlessplane.walks import Walk
 
 # What is no integer, for arguments that ask for one.
 NO_INTEGERS = [None, True, False, "1", "", (1,), [1], {}, b"1", object()]
@@ -23,11 +25,16 @@ NO_PAPERS = [
 
 GREAT = 10 ** 59
 
-# What is no integer of 0 or more, no colour, no Carpet, no Region.
+# What is no integer of 0 or more, no colour, no Carpet, no Region, no Floor, no Walk, no word.
 NO_NUMBERS = NO_INTEGERS + [-1, -GREAT]
 NO_COLOURS = NO_NUMBERS + [10, GREAT]
 NO_CARPETS = [None, True, 5, "01", (2, 1, 1, ("01",)), ["01"], Lattice(2, 1, 1), Region()]
 NO_REGIONS = [None, True, 5, "", (), [], (0, 1, 0, 1), [(0, 1, 0, 1)], ((0, 1, ((0, 1),)),), {}, Lattice(2, 1, 1)]
+
+NO_GROUNDS = [None, True, 5, "01", (), [], {}, Region(), Walk((0, 0)), [Floor(Carpet(1, 0, 1, ["0"]))]]
+NO_FLOORS = NO_GROUNDS + [Carpet(2, 1, 1, ["01"])]
+NO_WALKS = [None, True, 5, "EN", (0, 0), ((0, 0), ()), [("EN", 1)], {}, Region(), Floor(Carpet(1, 0, 1, ["0"]))]
+NO_WORDS = [None, True, 5, "", "e", "EX", "E ", "EN\n", "E" * 25, b"EN", ["E"], ("E", "N"), {}, object()]
 
 # For the name of an argument: the error of what does not fit, its attribute, the word (None: the value), such values.
 WRONG = {
@@ -37,6 +44,13 @@ WRONG = {
     "cell": (BadPart, "part", "cell", NO_PAIRS),
     "n": (BadNumber, "number", None, NO_NUMBERS),
     "y": (BadNumber, "number", None, NO_INTEGERS),
+    "floor": (BadPart, "part", "floor", NO_FLOORS),
+    "ground": (BadPart, "part", "ground", NO_GROUNDS),
+    "walk": (BadPart, "part", "walk", NO_WALKS),
+    "word": (BadPart, "part", "word", NO_WORDS),
+    "times": (BadNumber, "number", None, NO_NUMBERS),
+    "moment": (BadNumber, "number", None, NO_NUMBERS),
+    "lead": (BadNumber, "number", None, NO_INTEGERS),
 }
 
 CHESS = Carpet(2, 1, 1, ["01"])
@@ -89,6 +103,55 @@ def some_regions(seed, many, ends=()):
         one, other = Region(some_boxes(chance, 5, ends)), Region(some_boxes(chance, 4, ends))
         regions.append(chance.choice([one, one | other, one & other, one - other]))
     return regions
+
+
+def some_floors(seed, many, ends=(), signs="001", sizes=(1, 2, 3)):
+    """Floors by chance, without layers and with up to six of them."""
+    chance = random.Random(seed)
+    carpets = some_carpets(seed, 7 * many, sizes, signs)
+    floors = []
+    for index in range(many):
+        layers = [(Region(some_boxes(chance, 3, ends)), carpets.pop()) for _ in range(index % 7)]
+        floors.append(Floor(carpets.pop(), layers))
+    return floors
+
+
+def some_words(seed, many, most, letters="ENWS"):
+    """Words by chance of up to so many letters."""
+    chance = random.Random(seed)
+    return ["".join(chance.choice(letters) for _ in range(chance.randrange(1, most + 1))) for _ in range(many)]
+
+
+def some_walks(seed, many, parts=6, letters=5, times=4):
+    """Walks by chance, with up to so many parts, letters of a word, and times."""
+    chance = random.Random(seed)
+    walks = []
+    for index in range(many):
+        words = some_words(seed + 1000 * index, chance.randrange(parts + 1), letters)
+        cell = (chance.randrange(-4, 5), chance.randrange(-4, 5))
+        walks.append(Walk(cell, [(word, chance.randrange(times + 1)) for word in words]))
+    return walks
+
+
+def cells_walked(walk):
+    """The list of the cells at which a walk is at its moments, step by step."""
+    x, y = walk.cell
+    cells = [(x, y)]
+    for word, times in walk.parts:
+        for letter in word * times:
+            x, y = x + (letter == "E") - (letter == "W"), y + (letter == "N") - (letter == "S")
+            cells.append((x, y))
+    return cells
+
+
+def moments_in(rows):
+    """The list of all moments of rows (first, gap, many), ascending."""
+    return sorted(first + gap * index for first, gap, many in rows for index in range(many))
+
+
+def cell_region(cell):
+    """The region of one cell."""
+    return Region([(cell[0], cell[0] + 1, cell[1], cell[1] + 1)])
 
 
 def stairs():
@@ -158,10 +221,10 @@ class PlaneCase(unittest.TestCase):
         found = getattr(caught.exception, attribute)
         self.assertTrue(same(found, value), f"{found!r} is told for {value!r}")
 
-    def refuses(self, function, right, kinds=None):
+    def refuses(self, function, right, kinds=None, named=()):
         """Check all that does not fit of a call, told as a dict of right arguments, where later ones do not fit either.
 
-        An argument whose kind is not told is of the kind of its name.
+        An argument whose kind is not told is of the kind of its name; those named are passed by name only.
         """
         names = list(right)
         kinds = {name: (kinds or {}).get(name, name) for name in names}
@@ -173,7 +236,8 @@ class PlaneCase(unittest.TestCase):
             for value in values:
                 borne = value if word is None else word
                 told = {**right, name: value}
-                self.bears(error, attribute, borne, function, *told.values())
+                by_place = [told[other] for other in names if other not in named]
+                self.bears(error, attribute, borne, function, *by_place, **{other: told[other] for other in named})
                 self.bears(error, attribute, borne, function, **told)
                 later = {other: wrong.get(other) for other in names[index + 1:]}
                 self.bears(error, attribute, borne, function, **{**told, **later})

@@ -6,17 +6,21 @@ import os
 import unittest
 
 from endlessplane import (
-    carpets, countpapers, counts, cuts, errors, laying, lines, nthcells, parting, periods, regions, stretches,
+    carpets, countpapers, counts, cuts, errors, floorcounts, floorparting, floors, laying, lines, nthcells, nthstands,
+    parting, periods, regions, stands, stretches, walks,
 )
-from endlessplane.carpets import Carpet
+from endlessplane.carpets import Carpet, plain
 from endlessplane.counts import counts_of, longest_run, richest_row
 from endlessplane.cuts import pieces, size_of
+from endlessplane.floorcounts import census, floor_nth
+from endlessplane.floors import Floor, buried, idle, slimmed
 from endlessplane.laying import laid, laid_over, pairs_met, recolouring, showings, together
 from endlessplane.lines import both_remainders, in_box, remainder_of
 from endlessplane.nthcells import nth_of_colour, place_in
 from endlessplane.periods import Lattice
 from endlessplane.regions import Region
 from endlessplane.stretches import Spread, Stretch
+from endlessplane.walks import Walk
 
 FUNCTIONS = {
     lines: {
@@ -56,6 +60,27 @@ FUNCTIONS = {
         "is_block": "carpet value", "pattern_count": "carpet block colour", "count_paper": "carpet region colour",
         "nth_paper": "carpet region colour n", "shows_count": "carpet region value", "shows_nth": "carpet region value",
     },
+    floors: {"buried": "floor", "idle": "floor", "slimmed": "floor", "can_change": "floor level"},
+    floorcounts: {
+        "floor_count": "floor region colour", "census": "floor region", "floor_nth": "floor region colour n",
+        "floor_place": "floor region colour cell",
+    },
+    floorparting: {
+        "are_alike": "one other", "floor_parting": "one other", "does_part": "one other cell",
+        "agree_in": "one other region", "floor_parting_in": "one other region", "unlike_count": "one other region",
+    },
+    walks: {"shift_of": "word", "offsets_of": "word", "root_of": "word"},
+    stands: {
+        "stands": "walk region carpet=None colour=None",
+        "stands_ahead": "walk moment region carpet=None colour=None", "colours_of": "walk region carpet",
+        "floor_stands": "walk region floor colour", "visits": "walk cell",
+        "rows_of_stands": "walk region carpet=None colour=None", "lets_rows": "walk region carpet colour value",
+    },
+    nthstands: {
+        "nth_stand": "walk region carpet colour n", "first_stand": "walk region carpet colour",
+        "last_stand": "walk region carpet colour", "longest_absence": "walk cell",
+        "stand_paper": "walk region carpet colour n", "lets_stand": "walk region carpet colour value",
+    },
 }
 
 MEMBERS = {"count": "r=0 p=1", "first": "r=0 p=1", "final": "r=0 p=1", "nth": "n r=0 p=1", "below": "number r=0 p=1"}
@@ -90,6 +115,19 @@ CLASSES = {
             "__invert__": None, "__le__": None, "__eq__": None,
         },
     },
+    floors: {
+        "Floor": {
+            "__init__": "ground layers=()", "colour": "cell", "carpet_of": "level", "region_of": "level",
+            "shown": "level", "shower": "cell", "told_layers": "", "__eq__": None, "__len__": None,
+            "laid_on": "region carpet", "without": "level", "exchanged": "level", "recoloured": "colours",
+        },
+    },
+    walks: {
+        "Walk": {
+            "__init__": "cell parts=()", "end": "", "at": "moment", "part_at": "moment", "goal": "", "begins": "",
+            "steps": "first last", "__eq__": None,
+        },
+    },
     errors: {
         "BadPart": {"__init__": "part"}, "BadNumber": {"__init__": "number"}, "BadIndex": {"__init__": "index"},
         "BadName": {"__init__": "name"}, "NotSo": {"__init__": "word"}, "BadText": {"__init__": "line"},
@@ -102,6 +140,8 @@ def parameters(function):
     """The names of the parameters, with their default values."""
     told = []
     for parameter in inspect.signature(function).parameters.values():
+        if parameter.kind is inspect.Parameter.KEYWORD_ONLY and "*" not in told:
+            told.append("*")
         no_default = parameter.default is inspect.Parameter.empty
         told.append(parameter.name if no_default else f"{parameter.name}={parameter.default}")
     return " ".join(told)
@@ -145,6 +185,22 @@ class ExamplesTest(unittest.TestCase):
             (counts_of(chess, three)[:3], richest_row(chess, three, 0), longest_run(chess, three, 1),
              nth_of_colour(chess, three, 0, 3), place_in(chess, three, (1, 1))),
             ([5, 4, 0], (2, 0), (1, (1, 0)), (0, 2), 2))
+
+    def test_floors(self):
+        floor = Floor(plain(0), [(Region([(0, 2, 0, 2)]), Carpet(2, 1, 1, ["01"]))])
+        box = Region([(-1, 3, -1, 3)])
+        self.assertEqual(census(floor, box)[:3], (14, 2, 0))
+        self.assertEqual([floor_nth(floor, box, 1, n) for n in range(3)], [(1, 0), (0, 1), None])
+        covered = floor.laid_on(Region([(0, 2, 0, 2)]), plain(0))
+        self.assertEqual((buried(covered), idle(covered), idle(covered.without(1))), ([1], [1], [1]))
+        self.assertEqual(len(slimmed(covered)), 0)
+
+    def test_walks(self):
+        walk = Walk((0, 0), [("EN", 10 ** 30), ("W", 3)])
+        self.assertEqual(
+            (walk.end(), walk.at(2 * 10 ** 30), walk.goal() == (10 ** 30 - 3, 10 ** 30), walk.part_at(5)),
+            (2000000000000000000000000000003, (1000000000000000000000000000000, 1000000000000000000000000000000), True,
+             (0, 2, 1)))
 
     def test_readme(self):
         folder = os.path.dirname(os.path.dirname(os.path.abspath(__file__)))
