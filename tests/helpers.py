@@ -122,12 +122,12 @@ def some_words(seed, many, most, letters="ENWS"):
     return ["".join(chance.choice(letters) for _ in range(chance.randrange(1, most + 1))) for _ in range(many)]
 
 
-def some_walks(seed, many, parts=6, letters=5, times=4):
-    """Walks by chance, with up to so many parts, letters of a word, and times."""
+def some_walks(seed, many, parts=6, letters=5, times=4, steps="ENWS"):
+    """Walks by chance, with up to so many parts, letters of a word, which are of these steps, and times."""
     chance = random.Random(seed)
     walks = []
     for index in range(many):
-        words = some_words(seed + 1000 * index, chance.randrange(parts + 1), letters)
+        words = some_words(seed + 1000 * index, chance.randrange(parts + 1), letters, steps)
         cell = (chance.randrange(-4, 5), chance.randrange(-4, 5))
         walks.append(Walk(cell, [(word, chance.randrange(times + 1)) for word in words]))
     return walks

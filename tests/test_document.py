@@ -6,21 +6,26 @@ import os
 import unittest
 
 from endlessplane import (
-    carpets, countpapers, counts, cuts, errors, floorcounts, floorparting, floors, laying, lines, nthcells, nthstands,
-    parting, periods, regions, stands, stretches, walks,
+    carpets, closed, countpapers, counts, cuts, errors, floorcounts, floorparting, floors, laying, lines, meetings,
+    meetpapers, nthcells, nthstands, parting, periods, regions, stands, stretches, unlike, walkforms, walks, windings,
 )
 from endlessplane.carpets import Carpet, plain
+from endlessplane.closed import enclosed
 from endlessplane.counts import counts_of, longest_run, richest_row
 from endlessplane.cuts import pieces, size_of
 from endlessplane.floorcounts import census, floor_nth
 from endlessplane.floors import Floor, buried, idle, slimmed
 from endlessplane.laying import laid, laid_over, pairs_met, recolouring, showings, together
 from endlessplane.lines import both_remainders, in_box, remainder_of
+from endlessplane.meetings import many_meetings, nth_meeting
 from endlessplane.nthcells import nth_of_colour, place_in
 from endlessplane.periods import Lattice
 from endlessplane.regions import Region
 from endlessplane.stretches import Spread, Stretch
+from endlessplane.unlike import Trail
+from endlessplane.walkforms import parting_moment
 from endlessplane.walks import Walk
+from endlessplane.windings import crossings, row_sum, winding
 
 FUNCTIONS = {
     lines: {
@@ -81,6 +86,22 @@ FUNCTIONS = {
         "last_stand": "walk region carpet colour", "longest_absence": "walk cell",
         "stand_paper": "walk region carpet colour n", "lets_stand": "walk region carpet colour value",
     },
+    walkforms: {
+        "are_same": "one other", "parting_moment": "one other", "tidied": "walk", "is_tidy": "walk",
+        "cut": "walk first last", "turned_back": "walk", "walk_joined": "one other", "told_again": "walk times",
+        "moved_to": "walk cell",
+    },
+    meetings: {
+        "meet_runs": "one other * lead=0", "pass_runs": "one other", "many_meetings": "one other * lead=0",
+        "many_passes": "one other", "nth_meeting": "one other n * lead=0", "nth_pass": "one other n",
+        "last_meeting": "one other * lead=0", "meetings_in": "one other region * lead=0",
+        "meetings_on": "one other region ground colour * lead=0",
+    },
+    meetpapers: {"meet_paper": "one other", "is_meet_paper": "one other value", "shown_by": "paper"},
+    closed: {"is_closed": "walk", "backwards": "walk", "reach": "walk", "enclosed": "walk"},
+    windings: {
+        "winding": "walk cell", "row_sum": "walk y", "region_sum": "walk region", "crossings": "walk y",
+    },
 }
 
 MEMBERS = {"count": "r=0 p=1", "first": "r=0 p=1", "final": "r=0 p=1", "nth": "n r=0 p=1", "below": "number r=0 p=1"}
@@ -126,6 +147,13 @@ CLASSES = {
         "Walk": {
             "__init__": "cell parts=()", "end": "", "at": "moment", "part_at": "moment", "goal": "", "begins": "",
             "steps": "first last", "__eq__": None,
+        },
+    },
+    unlike: {
+        "Trail": {
+            "__init__": "cell word times", "strands": "", "many_cells": "", "__contains__": None,
+            "cells_in": "region", "cells_on": "ground colour * region=None", "visits_of": "cell", "visited": "",
+            "fresh_up_to": "moment", "nth_fresh": "n",
         },
     },
     errors: {
@@ -198,9 +226,23 @@ class ExamplesTest(unittest.TestCase):
     def test_walks(self):
         walk = Walk((0, 0), [("EN", 10 ** 30), ("W", 3)])
         self.assertEqual(
-            (walk.end(), walk.at(2 * 10 ** 30), walk.goal() == (10 ** 30 - 3, 10 ** 30), walk.part_at(5)),
+            (walk.end(), walk.at(2 * 10 ** 30), walk.goal() == (10 ** 30 - 3, 10 ** 30), walk.part_at(5),
+             parting_moment(walk, Walk((0, 0), [("ENEN", 10 ** 30)])) - 2 * 10 ** 30),
             (2000000000000000000000000000003, (1000000000000000000000000000000, 1000000000000000000000000000000), True,
-             (0, 2, 1)))
+             (0, 2, 1), 1))
+
+    def test_trails_and_meetings(self):
+        one, other = Walk((0, 0), [("EN", 10 ** 30)]), Walk((0, 0), [("NE", 10 ** 30)])
+        self.assertEqual(
+            (Trail((0, 0), "EEW", 5).strands(), many_meetings(one, other) == 10 ** 30 + 1, nth_meeting(one, other, 4)),
+            ([((0, 0), [(0, 7)])], True, 8))
+
+    def test_closed_walks(self):
+        around = Walk((0, 0), [("E", 3), ("N", 2), ("W", 3), ("S", 2)])
+        self.assertEqual(
+            (enclosed(around), winding(around, (2, 1)), winding(around, (3, 1)), row_sum(around, 0),
+             crossings(around, 0)),
+            (6, 1, 0, 3, [(3, 0, 1, 1), (0, 0, 1, -1)]))
 
     def test_readme(self):
         folder = os.path.dirname(os.path.dirname(os.path.abspath(__file__)))

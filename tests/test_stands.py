@@ -228,10 +228,10 @@ class RowsTest(StandsCase):
         walk = Walk((0, 0), [("EN", 2)])
         right = ((0, 2, 3),)
         self.assertIs(lets_rows(walk, ALL, CHESS, 0, right), True)
-        wrong = [[(0, 2, 3)], ([0, 2, 3],), ((0, 2),), ((0, 2, 3, 1),), ((True, 2, 3),), ((0, True, 3),), ((0, 2, True),),
-                 ((0, 2, "3"),), ((0, 0, 3),), ((0, 2, 0), (0, 2, 3)), (None,), "023", ((0, -2, 3),), ((4, -2, 3),),
-                 ((0, 2, -3),), {0: 2}, Everything(), (Everything(),), ((0, 2, Everything()),), Touchy(), (Touchy(),),
-                 ((False, 2, 3),)]
+        wrong = [[(0, 2, 3)], ([0, 2, 3],), ((0, 2),), ((0, 2, 3, 1),), ((True, 2, 3),), ((0, True, 3),),
+                 ((0, 2, True),), ((0, 2, "3"),), ((0, 0, 3),), ((0, 2, 0), (0, 2, 3)), (None,), "023",
+                 ((0, -2, 3),), ((4, -2, 3),), ((0, 2, -3),), ((False, 2, 3),), {0: 2}, Everything(),
+                 (Everything(),), ((0, 2, Everything()),), Touchy(), (Touchy(),)]
         for value in NO_PAPERS + wrong:
             self.assertIs(lets_rows(walk, ALL, CHESS, 0, value), False)
         # No moments at all are told by no rows.
