@@ -137,9 +137,9 @@ def _meetings(one, other, lead):
         way = letter.along(row)
         led = (row[0] + lead, row[1], row[2])
         found.extend(_met_on(row, way, other_letter.along(led)))
-    # The first moment that both have stands for itself: there one of them has done no letter.
+    # The first moment that both may have stands for itself: one of them has done no letter there, so it is at a cell.
     first = max(0, -lead)
-    if first <= one.end() and first + lead <= other.end() and one.at(first) == other.at(first + lead):
+    if one.at(first) == other.at(first + lead):
         found.append(((first, 1, 1), (one.at(first), (0, 0)), Stretch(0, 1)))
     return found
 

@@ -55,7 +55,7 @@ def _is_told_row(value):
     """Whether any value is a tuple of the form (a, k, b, l, first, step, many, word, at)."""
     if not isinstance(value, tuple) or len(value) != 9:
         return False
-    if not all([is_whole(value[index]) for index in (0, 1, 2, 3, 4, 5, 6, 8)]):
+    if not all([is_whole(value[index]) for index in (0, 1, 2, 3, 4, 8)]):
         return False
     return is_from(value[5], 1) and is_from(value[6], 1) and isinstance(value[7], str)
 

@@ -1,7 +1,7 @@
 """At which moment a walk stands somewhere for the n-th time, and papers of this."""
 
-from endlessplane.basics import is_pair, least_that, require_from, require_pair
-from endlessplane.stands import many_ahead, many_in, region_of_cell, rows_of_stands, visits
+from endlessplane.basics import is_pair, least_that, require_from
+from endlessplane.stands import many_ahead, many_in, region_of_cell, rows_of_stands, stands
 from endlessplane.walks import MadeParts, Walk, require_walk, shift_of
 
 
@@ -25,8 +25,8 @@ def last_stand(walk, region, carpet, colour):
 def longest_absence(walk, cell):
     """The most moments that lie between two neighbouring visits of a cell, None with less than two visits."""
     require_walk(walk)
-    require_pair(cell, "cell")
-    rows = rows_of_stands(_shortened(walk, cell), region_of_cell(cell))
+    region = region_of_cell(cell)
+    rows = rows_of_stands(_shortened(walk, region), region)
     moments = sorted([int(first + index * gap) for first, gap, many in rows for index in range(many)])
     if len(moments) < 2:
         return None
@@ -62,12 +62,12 @@ def last_moment(rows):
     return max([int(first + gap * (many - 1)) for first, gap, many in rows]) if rows else None
 
 
-def _shortened(walk, cell):
-    """The walk with fewer rounds, but with the same absences between visits of the cell."""
+def _shortened(walk, region):
+    """The walk with fewer rounds, but with the same absences from a region of one cell."""
     short = []
     for (word, times), (_, begun) in zip(walk.parts, walk.begins()):
         # A word that leads back to where it begins comes to the cell each time, or never: twice has all absences.
-        if shift_of(word) == (0, 0) and visits(Walk(begun, [(word, 1)]), cell) > 0:
+        if shift_of(word) == (0, 0) and stands(Walk(begun, [(word, 1)]), region) > 0:
             times = min(2, times)
         short.append((word, times))
     return Walk(walk.cell, MadeParts(tuple(short)))

@@ -115,7 +115,7 @@ def many_ahead(rows, moment):
 def by_firsts(rows):
     """The list of rows without common moments, ascending by their firsts."""
     told = {first: (first, gap, many) for first, gap, many in rows}
-    return [told[first] for first in sorted([int(first) for first in told])]
+    return [told[first] for first in sorted([int(number) for number in told])]
 
 
 def common_row(one, other):

@@ -125,6 +125,6 @@ def _cells_by_visits(spans):
     found = []
     for first, last in zip(ends, ends[1:]):
         often = sum([times for low, high, times in spans if low <= first < high])
-        if often > 0 and first < last:
+        if often > 0:
             found.append((often, last - first))
     return found

@@ -1,6 +1,6 @@
 """Whether two walks are the same, and walks told otherwise: tidied, cut, turned back, joined, told again, moved."""
 
-from endlessplane.basics import is_from, require_pair
+from endlessplane.basics import is_from
 from endlessplane.errors import BadNumber
 from endlessplane.parting import unlike_index
 from endlessplane.walks import MadeParts, Walk, require_moments, require_walk, root_of
@@ -84,7 +84,6 @@ def told_again(walk, times):
 def moved_to(walk, cell):
     """The walk with the same parts that begins at another cell."""
     require_walk(walk)
-    require_pair(cell, "cell")
     return _made(cell, walk.parts)
 
 

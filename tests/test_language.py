@@ -95,6 +95,21 @@ def is_plainly_compared(call):
     return any(is_plain_number(told) for told in call.args)
 
 
+def inner_names(node, outer, nested):
+    """The pairs (line, names) of comprehensions whose variables functions or comprehensions further out assign, too."""
+    for child in ast.iter_child_nodes(node):
+        if isinstance(child, (ast.ListComp, ast.SetComp, ast.DictComp, ast.GeneratorExp)):
+            targets = [told for part in child.generators for told in ast.walk(part.target)]
+            names = {told.id for told in targets if isinstance(told, ast.Name)}
+            if nested and names & outer:
+                yield child.lineno, names & outer
+            yield from inner_names(child, outer | names, True)
+        elif isinstance(child, ast.Lambda):
+            yield from inner_names(child, outer | {told.arg for told in child.args.args}, True)
+        else:
+            yield from inner_names(child, outer, nested)
+
+
 class LanguageTest(unittest.TestCase):
     def setUp(self):
         self.trees = {name: ast.parse(text_of(name)) for name in package_files()}
@@ -199,6 +214,19 @@ class LanguageTest(unittest.TestCase):
                     self.assertNotIn(node.arg, taken, f"{name}:{node.lineno}")
                 if isinstance(node, ast.Name) and isinstance(node.ctx, ast.Store):
                     self.assertNotIn(node.id, taken, f"{name}:{node.lineno}")
+
+    def test_names_in_comprehensions(self):
+        for name, tree in self.trees.items():
+            for row in ast.walk(tree):
+                if isinstance(row, ast.FunctionDef):
+                    self.assertEqual(list(inner_names(row, set(), False)), [], name)
+
+    def test_attributes_and_methods(self):
+        methods = {row.name for _, node in self.every_node(ast.ClassDef) for row in node.body
+                   if isinstance(row, ast.FunctionDef)}
+        for place, node in self.every_node(ast.Attribute):
+            if isinstance(node.ctx, ast.Store):
+                self.assertNotIn(node.attr, methods, place)
 
     def test_calls(self):
         takes_a_list = ("any", "all", "min", "max", "sum", "sorted")

@@ -108,6 +108,13 @@ class MeetingsTest(RunsCase):
         with self.assertRaises(TypeError):
             meetings_in(EN, NE, ALL, 0)
 
+    def test_every_returned_list_is_new(self):
+        row = Walk((0, 0), [("E", 9)])
+        meet_runs(row, row).clear()
+        pass_runs(row, Walk((1, 0), [("W", 1)])).clear()
+        self.tells(meet_runs(row, row), list(range(10)))
+        self.tells(pass_runs(row, Walk((1, 0), [("W", 1)])), [1])
+
     def test_other_way_round(self):
         for one, other in PAIRS[::4]:
             for lead in (0, 2, -5):

@@ -21,7 +21,7 @@ from tests.helpers import (
 LONG = 10 ** 30
 ALL = ~Region()
 WALK = Walk((0, 0), [("EN", 5), ("W", 3)])
-WALKS = some_walks(141, 20) + [Walk((0, 0)), Walk((1, 1), [("EW", 0)])]
+WALKS = some_walks(141, 20) + some_walks(147, 4, 3, 24, 3) + [Walk((0, 0)), Walk((1, 1), [("EW", 0)])]
 CARPETS = some_carpets(142, 12, [1, 2, 3, 4], "012") + [CHESS, COLUMNS]
 REGIONS = some_regions(143, 6, [None] * 3) + some_regions(144, 4) + [Region(), ALL]
 RIGHT = {"walk": WALK, "region": THREE, "carpet": CHESS, "colour": 0}

@@ -17,7 +17,8 @@ from tests.helpers import (
 LONG = 10 ** 30
 ALL = ~Region()
 WORDS = some_words(171, 25, 5) + some_words(172, 12, 9, "EENW") + some_words(173, 6, 12, "EW")
-WORDS += ["E", "S", "EEW", "EW", "ENWS", "WWE", "ENEWWS", "EENWSEE", "NNSSSNNN", "ENNWSS", "EEENWWS", "E" * 24]
+WORDS += ["E", "S", "EEW", "EW", "ENWS", "WWE", "ENEWWS", "EENWSEE", "NNSSSNNN", "ENNWSS", "EEENWWS", "NEEEESNWWWS"]
+WORDS += ["E" * 24, "ENWS" * 6, "EENNWWWSSS" * 2]
 TRAILS = [((3 - index, index), word, times) for index, word in enumerate(WORDS) for times in (0, 1, 2, 5)]
 GREAT_WORDS = ["E", "EEW", "ENES", "EENWSEE", "NNSSSNNN", "WWSSENW", "EEENWWS", "NNEESSWN", "ENWSEE"]
 
@@ -170,6 +171,7 @@ class CellsTest(PlaneCase):
             self.bears(BadPart, "part", "region", trail.cells_in, region=value)
             if value is not None:
                 self.bears(BadPart, "part", "region", trail.cells_on, CHESS, 1, region=value)
+                self.bears(BadPart, "part", "region", trail.cells_on, Floor(CHESS), colour=1, region=value)
         for value in NO_COLOURS:
             self.bears(BadNumber, "number", value, trail.cells_on, CHESS, value, region=5)
             self.bears(BadNumber, "number", value, trail.cells_on, Floor(CHESS), colour=value)

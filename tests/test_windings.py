@@ -80,6 +80,8 @@ class WindingTest(PlaneCase):
         self.refuses(winding, {"walk": AROUND, "cell": (0, 0)})
         self.refuses(row_sum, {"walk": AROUND, "y": 0})
         self.refuses(crossings, {"walk": AROUND, "y": 0})
+        self.refuses(crossings, {"walk": Walk((3, 3)), "y": 0})
+        self.refuses(winding, {"walk": Walk((3, 3)), "cell": (0, 0)})
         self.refuses(region_sum, {"walk": AROUND, "region": THREE})
         for walk in OPEN:
             for value in NO_PAIRS + [(0, 0)]:
