@@ -59,7 +59,7 @@ def lets_rows(walk, region, carpet, colour, value):
     rows = rows_of_stands(walk, region, carpet, colour)
     if not isinstance(value, tuple) or not all([_is_row_of_moments(item) for item in value]):
         return False
-    # The squares of how much more often each moment is told by the one than by the other add up to 0 only if none is.
+    # How much oftener the one tells a moment than the other, squared and added up over all, is 0 only if none is.
     return _many_shared(value, value) + many_in(rows) == 2 * _many_shared(value, rows)
 
 
