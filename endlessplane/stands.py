@@ -67,6 +67,11 @@ def require_stands(walk, region, carpet, colour):
     """Raise an error unless these are a Walk, a Region, a Carpet with a colour or None with None."""
     require_walk(walk)
     require_region(region)
+    require_painted(carpet, colour)
+
+
+def require_painted(carpet, colour):
+    """Raise an error unless these are a Carpet with a colour or None with None."""
     if carpet is not None:
         require_carpet(carpet)
         require_colour(colour)

@@ -25,7 +25,7 @@ def region_sum(walk, region):
     """The sum of the windings of a closed walk round the cells of a finite region."""
     require_closed(walk)
     require_finite(region)
-    upright = _upright_letters(walk)
+    upright = upright_letters(walk)
     return sum([SIGNS[letter.letter] * _cells_west(letter, box) for box in boxes_of(region) for letter in upright])
 
 
@@ -34,18 +34,23 @@ def crossings(walk, y):
     require_closed(walk)
     require_whole(y)
     found = []
-    for letter in _upright_letters(walk):
-        rounds = on_number(_row_of(letter), letter.shift[1], y)
-        rounds = None if rounds is None else rounds.common(Stretch(0, letter.times))
+    for letter in upright_letters(walk):
+        rounds = rounds_in_row(letter, y)
         if rounds is not None:
             x, step, many = _x_line(letter, rounds)
             found.append((x, step if many > 1 else 0, many, SIGNS[letter.letter]))
     return found
 
 
-def _upright_letters(walk):
+def upright_letters(walk):
     """The list of the letters N and S of a walk."""
     return [letter for letter in letters_of(walk) if letter.letter in SIGNS]
+
+
+def rounds_in_row(letter, y):
+    """The Stretch of the rounds at which a letter N or S crosses a row, or None."""
+    rounds = on_number(_row_of(letter), letter.shift[1], y)
+    return None if rounds is None else rounds.common(Stretch(0, letter.times))
 
 
 def _row_of(letter):

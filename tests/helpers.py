@@ -1,5 +1,6 @@
 """What several of the tests need."""
 
+import itertools
 import random
 import unittest
 
@@ -25,6 +26,9 @@ NO_PAPERS = [
 
 GREAT = 10 ** 59
 
+CHESS = Carpet(2, 1, 1, ["01"])
+COLUMNS = Carpet(2, 0, 1, ["01"])
+
 # What is no integer of 0 or more, no colour, no Carpet, no Region, no Floor, no Walk, no word.
 NO_NUMBERS = NO_INTEGERS + [-1, -GREAT]
 NO_COLOURS = NO_NUMBERS + [10, GREAT]
@@ -35,6 +39,12 @@ NO_GROUNDS = [None, True, 5, "01", (), [], {}, Region(), Walk((0, 0)), [Floor(Ca
 NO_FLOORS = NO_GROUNDS + [Carpet(2, 1, 1, ["01"])]
 NO_WALKS = [None, True, 5, "EN", (0, 0), ((0, 0), ()), [("EN", 1)], {}, Region(), Floor(Carpet(1, 0, 1, ["0"]))]
 NO_WORDS = [None, True, 5, "", "e", "EX", "E ", "EN\n", "E" * 25, b"EN", ["E"], ("E", "N"), {}, object()]
+
+NO_DICE = [None, True, 5, "123", [1, 2, 3], (), (1, 2), (1, 2, 3, 4), (1, 2, 1), (1, 1, 2), (2, 1, 1), (1, 2, 5), (1, 6, 2),
+           (3, 2, 4), (0, 2, 3), (1, 7, 3), (True, 2, 3), (1, 2, "3"), (1, 2, None), {1: 1, 2: 2, 3: 3}, Region()]
+NO_TEXTS = [None, True, 5, "e", "EX", "E ", "EN\n", "E" * 61, b"EN", ["E"], ("E", "N"), (), {}, object()]
+NO_FACES = NO_NUMBERS + [0, 7, GREAT]
+NO_MOTIONS = [None, True, 5, "left", ("left", (0, 0)), (0, 0), [], {}, Region(), CHESS]
 
 # For the name of an argument: the error of what does not fit, its attribute, the word (None: the value), such values.
 WRONG = {
@@ -51,10 +61,15 @@ WRONG = {
     "times": (BadNumber, "number", None, NO_NUMBERS),
     "moment": (BadNumber, "number", None, NO_NUMBERS),
     "lead": (BadNumber, "number", None, NO_INTEGERS),
+    "corner": (BadPart, "part", "corner", NO_PAIRS),
+    "die": (BadPart, "part", "die", NO_DICE),
+    "text": (BadPart, "part", "word", NO_TEXTS),
+    "face": (BadNumber, "number", None, NO_FACES),
+    "motion": (BadPart, "part", "motion", NO_MOTIONS),
+    "told region": (BadPart, "part", "region", NO_REGIONS[1:]),
+    "told carpet": (BadPart, "part", "carpet", NO_CARPETS[1:]),
+    "no colour": (BadNumber, "number", None, [0, 9] + NO_COLOURS[1:]),
 }
-
-CHESS = Carpet(2, 1, 1, ["01"])
-COLUMNS = Carpet(2, 0, 1, ["01"])
 
 # The least y of 1 or more such that (0, y) is a period is 144 for both; (0, 1) leads to a neighbour in the first one.
 SLANTED = Carpet(144, 1, 1, ["0" * 143 + "1"])
@@ -147,6 +162,17 @@ def cells_walked(walk):
 def moments_in(rows):
     """The list of all moments of rows (first, gap, many), ascending."""
     return sorted(first + gap * index for first, gap, many in rows for index in range(many))
+
+
+def every_word(letters):
+    """All words of so many letters."""
+    return ["".join(told) for told in itertools.product("ENWS", repeat=letters)]
+
+
+def every_die():
+    """All dice, ascending."""
+    faces = itertools.product(range(1, 7), repeat=3)
+    return [die for die in faces if len({min(face, 7 - face) for face in die}) == 3]
 
 
 def cell_region(cell):

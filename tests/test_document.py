@@ -6,15 +6,19 @@ import os
 import unittest
 
 from endlessplane import (
-    carpets, closed, countpapers, counts, cuts, errors, floorcounts, floorparting, floors, laying, lines, meetings,
-    meetpapers, nthcells, nthstands, parting, periods, regions, stands, stretches, unlike, walkforms, walks, windings,
+    carpets, closed, countpapers, counts, cuts, dice, errors, floorcounts, floorparting, floors, inside, lasting, laying,
+    lines, meetings, meetpapers, motions, nthcells, nthstands, parting, periods, prints, regions, stands, stretches,
+    unlike, walkforms, walks, windings, windpapers,
 )
 from endlessplane.carpets import Carpet, plain
 from endlessplane.closed import enclosed
 from endlessplane.counts import counts_of, longest_run, richest_row
 from endlessplane.cuts import pieces, size_of
+from endlessplane.dice import order, rolled
 from endlessplane.floorcounts import census, floor_nth
 from endlessplane.floors import Floor, buried, idle, slimmed
+from endlessplane.inside import loops
+from endlessplane.lasting import left_counts, rounds
 from endlessplane.laying import laid, laid_over, pairs_met, recolouring, showings, together
 from endlessplane.lines import both_remainders, in_box, remainder_of
 from endlessplane.meetings import many_meetings, nth_meeting
@@ -26,6 +30,7 @@ from endlessplane.unlike import Trail
 from endlessplane.walkforms import parting_moment
 from endlessplane.walks import Walk
 from endlessplane.windings import crossings, row_sum, winding
+from endlessplane.windpapers import word_paper
 
 FUNCTIONS = {
     lines: {
@@ -102,6 +107,37 @@ FUNCTIONS = {
     windings: {
         "winding": "walk cell", "row_sum": "walk y", "region_sum": "walk region", "crossings": "walk y",
     },
+    inside: {
+        "is_closed_word": "word", "is_simple": "word", "hand_of": "word", "inside": "corner word",
+        "within": "corner word", "loops": "word",
+    },
+    windpapers: {
+        "word_paper": "word", "shows_word": "word value", "winding_paper": "walk cell",
+        "shows_winding": "walk cell value",
+    },
+    dice: {
+        "is_die": "value", "is_text": "value", "sides": "die", "rolled": "die text times=1", "order": "text",
+        "hand": "die", "way": "die other", "are_even": "die other", "can_come": "die start goal other",
+        "all_there": "die start goal",
+    },
+    prints: {
+        "die_at": "walk die moment", "print_at": "walk die moment",
+        "print_count": "walk die face region=None carpet=None colour=None",
+        "print_counts": "walk die region=None carpet=None colour=None",
+        "nth_print": "walk die face n region=None carpet=None colour=None",
+        "last_print": "walk die face region=None carpet=None colour=None",
+    },
+    lasting: {
+        "rounds": "word times", "is_start_last": "word times", "last_count": "word times",
+        "last_moment": "cell word times goal", "left_on": "cell word times goal die",
+        "left_count": "cell word times die face region=None carpet=None colour=None",
+        "left_counts": "cell word times die region=None carpet=None colour=None",
+        "left_paper": "cell word times goal die", "accepts_left": "cell word times goal die value",
+    },
+    motions: {
+        "moved_carpet": "motion carpet", "moved_region": "motion region", "moved_floor": "motion floor",
+        "moved_walk": "motion walk", "moved_closed": "motion walk", "moved_die": "motion die",
+    },
 }
 
 MEMBERS = {"count": "r=0 p=1", "first": "r=0 p=1", "final": "r=0 p=1", "nth": "n r=0 p=1", "below": "number r=0 p=1"}
@@ -154,6 +190,12 @@ CLASSES = {
             "__init__": "cell word times", "strands": "", "many_cells": "", "__contains__": None,
             "cells_in": "region", "cells_on": "ground colour * region=None", "visits_of": "cell", "visited": "",
             "fresh_up_to": "moment", "nth_fresh": "n",
+        },
+    },
+    motions: {
+        "Motion": {
+            "__init__": "turn shift=(0, 0)", "sign": "", "led": "cell", "led_back": "cell", "__rshift__": None,
+            "reversed_motion": "", "__eq__": None,
         },
     },
     errors: {
@@ -243,6 +285,14 @@ class ExamplesTest(unittest.TestCase):
             (enclosed(around), winding(around, (2, 1)), winding(around, (3, 1)), row_sum(around, 0),
              crossings(around, 0)),
             (6, 1, 0, 3, [(3, 0, 1, 1), (0, 0, 1, -1)]))
+        self.assertEqual(
+            (word_paper("ENWS"), loops("ENWSWE")),
+            (('inside', 1, ((0, 1, 0, 1),)), [((0, 0), 'ENWS'), ((0, 0), 'WE')]))
+
+    def test_dice(self):
+        self.assertEqual(
+            (rolled((1, 2, 3), "E"), order("E"), order("EN"), rounds("EEW", 5)), ((4, 2, 1), 4, 3, [5, 4, 0]))
+        self.assertEqual(left_counts((0, 0), "E", 4, (1, 2, 3)), {1: 1, 2: 0, 3: 1, 4: 1, 5: 0, 6: 2})
 
     def test_readme(self):
         folder = os.path.dirname(os.path.dirname(os.path.abspath(__file__)))
