@@ -14,9 +14,8 @@ def is_die(value):
     """Whether any value is a die (top, north, east)."""
     if not isinstance(value, tuple) or len(value) != 3 or not all([is_face(item) for item in value]):
         return False
-    top, north, east = value
-    # A face, and the one that is opposite to it, are met once each.
-    return len(set([top, 7 - top, north, 7 - north, east, 7 - east])) == 6
+    # No two are of one of the three pairs of opposite faces.
+    return len(set([min(int(face), 7 - face) for face in value])) == 3
 
 
 def is_text(value):

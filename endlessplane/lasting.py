@@ -31,9 +31,7 @@ def last_count(word, times):
 
 def last_moment(cell, word, times, goal):
     """The last moment at which the walk is on the goal, or None."""
-    walk = _walk_of(cell, word, times)
-    require_pair(goal, "cell")
-    return last_stand(walk, region_of_cell(goal), None, None)
+    return last_stand(_walk_of(cell, word, times), region_of_cell(goal), None, None)
 
 
 def left_on(cell, word, times, goal, die):

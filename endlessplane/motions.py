@@ -4,7 +4,7 @@ from endlessplane.basics import cell_along, require_pair
 from endlessplane.carpets import require_carpet, woven
 from endlessplane.closed import require_closed
 from endlessplane.cuts import boxes_of
-from endlessplane.dice import require_die, sides
+from endlessplane.dice import sides
 from endlessplane.errors import BadPart
 from endlessplane.floors import Floor, require_floor
 from endlessplane.periods import spanned
@@ -115,7 +115,6 @@ def moved_closed(motion, walk):
 def moved_die(motion, die):
     """The die that has the face of the side of each direction on the side of the turned direction."""
     _require_motion(motion)
-    require_die(die)
     faces = sides(die)
     turned = {_turned_letter(motion.turn, SIDES[side]): faces[side] for side in SIDES}
     return (die[0], turned["N"], turned["E"])

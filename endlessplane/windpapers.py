@@ -53,7 +53,7 @@ def shows_winding(walk, cell, value):
     """Whether any value is just this paper."""
     paper = winding_paper(walk, cell)
     # Only what has the form is compared: other values may have an == of any kind, and True is equal to 1.
-    return isinstance(value, tuple) and all([_is_told_row(item) for item in value]) and value == paper
+    return isinstance(value, tuple) and all([_is_row_of_integers(item) for item in value]) and value == paper
 
 
 def _is_twice(offsets, i, j):
@@ -82,6 +82,6 @@ def _rounds_east(letter, cell):
     return None if rounds is None or east is None else rounds.common(east)
 
 
-def _is_told_row(value):
-    """Whether any value is a tuple of four integers."""
-    return isinstance(value, tuple) and len(value) == 4 and all([is_whole(item) for item in value])
+def _is_row_of_integers(value):
+    """Whether any value is a tuple of integers."""
+    return isinstance(value, tuple) and all([is_whole(item) for item in value])

@@ -45,6 +45,7 @@ NO_DICE = [None, True, 5, "123", [1, 2, 3], (), (1, 2), (1, 2, 3, 4), (1, 2, 1),
 NO_TEXTS = [None, True, 5, "e", "EX", "E ", "EN\n", "E" * 61, b"EN", ["E"], ("E", "N"), (), {}, object()]
 NO_FACES = NO_NUMBERS + [0, 7, GREAT]
 NO_MOTIONS = [None, True, 5, "left", ("left", (0, 0)), (0, 0), [], {}, Region(), CHESS]
+NO_SIEVES = [None, True, 5, "23", [2, 3], (2, 3), (), [], {}, Region(), CHESS]
 
 # For the name of an argument: the error of what does not fit, its attribute, the word (None: the value), such values.
 WRONG = {
@@ -65,6 +66,7 @@ WRONG = {
     "die": (BadPart, "part", "die", NO_DICE),
     "text": (BadPart, "part", "word", NO_TEXTS),
     "face": (BadNumber, "number", None, NO_FACES),
+    "sieve": (BadPart, "part", "sieve", NO_SIEVES),
     "motion": (BadPart, "part", "motion", NO_MOTIONS),
     "told region": (BadPart, "part", "region", NO_REGIONS[1:]),
     "told carpet": (BadPart, "part", "carpet", NO_CARPETS[1:]),

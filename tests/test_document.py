@@ -6,12 +6,13 @@ import os
 import unittest
 
 from endlessplane import (
-    carpets, closed, countpapers, counts, cuts, dice, errors, floorcounts, floorparting, floors, inside, lasting, laying,
-    lines, meetings, meetpapers, motions, nthcells, nthstands, parting, periods, prints, regions, stands, stretches,
-    unlike, walkforms, walks, windings, windpapers,
+    carpets, closed, console, countpapers, counts, cuts, dice, errors, floorcounts, floorparting, floors, inside, lasting,
+    laying, likeness, lines, live, meetings, meetpapers, motions, nthcells, nthstands, parting, periods, prints, regions,
+    sieves, stands, stretches, stripes, texts, unlike, walkforms, walks, windings, windpapers,
 )
 from endlessplane.carpets import Carpet, plain
 from endlessplane.closed import enclosed
+from endlessplane.console import Console
 from endlessplane.counts import counts_of, longest_run, richest_row
 from endlessplane.cuts import pieces, size_of
 from endlessplane.dice import order, rolled
@@ -20,11 +21,14 @@ from endlessplane.floors import Floor, buried, idle, slimmed
 from endlessplane.inside import loops
 from endlessplane.lasting import left_counts, rounds
 from endlessplane.laying import laid, laid_over, pairs_met, recolouring, showings, together
+from endlessplane.likeness import motions_between
 from endlessplane.lines import both_remainders, in_box, remainder_of
 from endlessplane.meetings import many_meetings, nth_meeting
+from endlessplane.motions import TURNS
 from endlessplane.nthcells import nth_of_colour, place_in
 from endlessplane.periods import Lattice
 from endlessplane.regions import Region
+from endlessplane.sieves import Sieve
 from endlessplane.stretches import Spread, Stretch
 from endlessplane.unlike import Trail
 from endlessplane.walkforms import parting_moment
@@ -138,6 +142,19 @@ FUNCTIONS = {
         "moved_carpet": "motion carpet", "moved_region": "motion region", "moved_floor": "motion floor",
         "moved_walk": "motion walk", "moved_closed": "motion walk", "moved_die": "motion die",
     },
+    likeness: {
+        "least_form": "carpet", "are_like": "one other", "motions_between": "one other", "motion_between": "one other",
+        "own_motions": "carpet", "shows_like": "one other motion",
+    },
+    stripes: {
+        "striped_counts": "carpet sieve region", "striped_count": "carpet sieve region colour",
+        "stripe_of": "carpet sieve", "nth_striped": "carpet sieve region colour n",
+    },
+    texts: {
+        "write_carpet": "carpet", "write_region": "region", "write_floor": "floor", "write_walk": "walk",
+        "write_die": "die", "read_carpet": "text", "read_region": "text", "read_floor": "text", "read_walk": "text",
+        "read_die": "text",
+    },
 }
 
 MEMBERS = {"count": "r=0 p=1", "first": "r=0 p=1", "final": "r=0 p=1", "nth": "n r=0 p=1", "below": "number r=0 p=1"}
@@ -198,6 +215,21 @@ CLASSES = {
             "reversed_motion": "", "__eq__": None,
         },
     },
+    sieves: {
+        "Sieve": {
+            "__init__": "ks", "product": "", "many": "", "is_left": "value", "nth_left": "n", "place_of": "x",
+            "left_below": "x", "next_left": "x", "left_in": "stretch", "__eq__": None, "leaves_alike": "other",
+        },
+    },
+    live: {
+        "Live": {
+            "__init__": "carpet", "now": "", "names": "", "walk_of": "name", "where": "name", "die_of": "name",
+            "colour_under": "name", "lay": "region carpet", "lift": "", "put": "name cell die=None", "take": "name",
+            "go": "name word times=1", "stood": "name colour", "stood_at": "name colour n", "met": "one other",
+            "undo": "", "redo": "", "steps": "", "attempt": "deed", "trial": "", "twin": "", "__eq__": None,
+        },
+    },
+    console: {"Console": {"__init__": "", "run": "line"}},
     errors: {
         "BadPart": {"__init__": "part"}, "BadNumber": {"__init__": "number"}, "BadIndex": {"__init__": "index"},
         "BadName": {"__init__": "name"}, "NotSo": {"__init__": "word"}, "BadText": {"__init__": "line"},
@@ -293,6 +325,24 @@ class ExamplesTest(unittest.TestCase):
         self.assertEqual(
             (rolled((1, 2, 3), "E"), order("E"), order("EN"), rounds("EEW", 5)), ((4, 2, 1), 4, 3, [5, 4, 0]))
         self.assertEqual(left_counts((0, 0), "E", 4, (1, 2, 3)), {1: 1, 2: 0, 3: 1, 4: 1, 5: 0, 6: 2})
+
+    def test_sieves_and_likeness(self):
+        sieve = Sieve([2, 3])
+        self.assertEqual(
+            ([sieve.nth_left(n) for n in range(5)], sieve.left_below(7), sieve.product(), sieve.many()),
+            ([0, 2, 6, 8, 12], 3, 6, 2))
+        found = motions_between(Carpet(2, 1, 1, ["01"]), Carpet(2, 1, 1, ["10"]))
+        self.assertEqual([motion.turn for motion in found], list(TURNS))
+
+    def test_console(self):
+        told = Console()
+        self.assertEqual(
+            [told.run(line)
+             for line in ["begin 2 1 1 01", "put ann 0 0 1 2 3", "go ann EN 1000000000000", "where ann"]],
+            ['ok', 'ok', 'ok', '1000000000000 1000000000000'])
+        self.assertEqual(
+            [told.run(line) for line in ["stood ann 0", "die ann", "lay 0 2 0 2 on 1 0 1 5", "stood ann 5"]],
+            ['1000000000001', '5 4 1', 'ok', '3'])
 
     def test_readme(self):
         folder = os.path.dirname(os.path.dirname(os.path.abspath(__file__)))

@@ -179,12 +179,12 @@ class LeftTest(PlaneCase):
 
     def test_wrong_arguments(self):
         told = {"cell": (0, 0), "word": "EEW", "times": 3}
-        goal = {**told, "goal": (1, 0)}
         kinds = {"goal": "cell", "region": "told region", "carpet": "told carpet"}
-        self.refuses(last_moment, goal, kinds)
-        self.refuses(left_on, {**goal, "die": DIE}, kinds)
-        self.refuses(left_paper, {**goal, "die": DIE}, kinds)
-        self.refuses(accepts_left, {**goal, "die": DIE, "value": None}, kinds)
+        for goal in ({**told, "goal": (1, 0)}, {**told, "goal": (GREAT, 5)}):
+            self.refuses(last_moment, goal, kinds)
+            self.refuses(left_on, {**goal, "die": DIE}, kinds)
+            self.refuses(left_paper, {**goal, "die": DIE}, kinds)
+            self.refuses(accepts_left, {**goal, "die": DIE, "value": None}, kinds)
         place = {"region": THREE, "carpet": CHESS, "colour": 0}
         for function, right in ((left_count, {**told, "die": DIE, "face": 6}), (left_counts, {**told, "die": DIE})):
             self.refuses(function, {**right, **place}, kinds)
