@@ -61,7 +61,7 @@ def _where(live, words):
 
 def _die(live, words):
     """The answer to die NAME."""
-    return _words_of(live.die_of(words[0]) or ())
+    return _words_of(live.die_of(words[0]))
 
 
 def _under(live, words):
@@ -99,7 +99,7 @@ def _show(live, words):
 
 
 def _words_of(values):
-    """The words of some values with one blank between them, none without any."""
+    """The words of some values with one blank between them; none without any, and for None."""
     return " ".join([str(value) for value in values]) if values else NOTHING
 
 

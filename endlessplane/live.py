@@ -1,7 +1,6 @@
 """Live floors, on which layers are laid and walkers go, step by step, and can be taken back."""
 
 from endlessplane.basics import require_colour, require_from, require_pair
-from endlessplane.carpets import require_carpet
 from endlessplane.dice import require_die
 from endlessplane.errors import BadName, NothingToUndo, TooMany
 from endlessplane.floors import Floor, shown_parts
@@ -25,7 +24,6 @@ class Live:
     """
 
     def __init__(self, carpet):
-        require_carpet(carpet)
         self._history = ((Floor(carpet), ()), (), ())
 
     def __eq__(self, other):
@@ -96,9 +94,7 @@ class Live:
 
     def stood(self, name, colour):
         """How often a walker has stood on a colour of the floor as it is."""
-        walk = self.walk_of(name)
-        require_colour(colour)
-        return floor_stands(walk, ~Region(), self.now(), colour)
+        return floor_stands(self.walk_of(name), ~Region(), self.now(), colour)
 
     def stood_at(self, name, colour, n):
         """The moment number n, from 0, at which it has stood so, or None."""

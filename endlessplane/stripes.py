@@ -142,7 +142,8 @@ def _slabs_from_0(region):
 
 
 def _with_more(total, number, times):
-    """A total with so many more so many times, None if there is no end of one of them."""
-    if total is None or number == 0:
+    """A total with so many more so many times, None if there is no end of them."""
+    # Of one slab there is no end of all columns that it has, or of all rows, or all have an end.
+    if number == 0:
         return total
     return None if number is None or times is None else total + number * times

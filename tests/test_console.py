@@ -154,7 +154,7 @@ class RefusedTest(ConsoleCase):
             "stood", "stood ann", "stood ann 0 0 0", "put", "put cat", "put cat 0", "put cat 0 0 1", "put cat 0 0 1 2",
             "put cat 0 0 1 2 3 4", "lay", "lay on", "lay 0 1 0 1", "lay 0 1 0 on 1 0 1 0", "lay 0 1 0 1 on", "lay 1 0 1 0",
             "lay on on 1 0 1 0", "lay 0 1 0 1 on on 1 0 1 0", "lay region on 1 0 1 0", "lay on 1 0 1 0 on", "lay on carpet 1 0 1 0",
-            "n", "nii", "lay ann", "0", "__init__"])
+            "where ", "take ", "die ", "put  0 0", "met ann ", "met  ann", "stood  0", "go  E 1", "go ann  1", "names ", "n", "nii", "lay ann", "0", "__init__"])
 
     def test_odd_words(self):
         for word in ("-0", "00", "01", "1.0", "x", "*", "1" * 61, "--1", "+1", "E"):

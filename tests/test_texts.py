@@ -147,6 +147,12 @@ class ReadTest(PlaneCase):
         for line in ("walk 0", "walk 0 0 E", "walk 0 0 E 5 N", "walk 0 0 5", "walk 0 0 5 E", "walk 0 0 e 5", "walk 0 0 EX 5",
                      "walk 0 0 0 5", "walk 0 0 E E", "walk * 0", "walk 0 0 E 05", "walk 0 0 E *", "walk 0 0 E 5 5"):
             self.bears(BadText, "line", 0, read_walk, line)
+        for line in ("walk 0 0  5", "walk 0 0 E ", "walk  0 0", "walk 0 0 "):
+            self.bears(BadText, "line", 0, read_walk, line)
+        for line in ("carpet 1 0 1 ", "carpet 1 0 1  0", "carpet  0 1 0", "carpet 2 0 2 01  01"):
+            self.bears(BadText, "line", 0, read_carpet, line)
+        for line in ("region ", "region 0 1 0 ", "region 0 1  0", "region    "):
+            self.bears(BadText, "line", 0, read_region, line)
         for line in ("die 1 2", "die 1 2 3 4", "die 123", "die 1 2 *", "die 1 2 E"):
             self.bears(BadText, "line", 0, read_die, line)
 
