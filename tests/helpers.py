@@ -40,7 +40,8 @@ NO_FLOORS = NO_GROUNDS + [Carpet(2, 1, 1, ["01"])]
 NO_WALKS = [None, True, 5, "EN", (0, 0), ((0, 0), ()), [("EN", 1)], {}, Region(), Floor(Carpet(1, 0, 1, ["0"]))]
 NO_WORDS = [None, True, 5, "", "e", "EX", "E ", "EN\n", "E" * 25, b"EN", ["E"], ("E", "N"), {}, object()]
 
-NO_DICE = [None, True, 5, "123", [1, 2, 3], (), (1, 2), (1, 2, 3, 4), (1, 2, 1), (1, 1, 2), (2, 1, 1), (1, 2, 5), (1, 6, 2),
+NO_DICE = [None, True, 5, "123", [1, 2, 3], (), (1, 2), (1, 2, 3, 4), (1, 2, 1), (1, 1, 2), (2, 1, 1), (1, 2, 5),
+           (1, 6, 2),
            (3, 2, 4), (0, 2, 3), (1, 7, 3), (True, 2, 3), (1, 2, "3"), (1, 2, None), {1: 1, 2: 2, 3: 3}, Region()]
 NO_TEXTS = [None, True, 5, "e", "EX", "E ", "EN\n", "E" * 61, b"EN", ["E"], ("E", "N"), (), {}, object()]
 NO_FACES = NO_NUMBERS + [0, 7, GREAT]

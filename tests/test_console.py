@@ -18,8 +18,8 @@ ASKED = ["show", "names", "steps", "where ann", "die ann", "under ann", "stood a
 def begun():
     """A console with a floor of one layer and two walkers, and a step that is taken back."""
     console = Console()
-    for line in ("begin 2 1 1 01", "lay 0 3 0 3 on 1 0 1 5", "put ann 0 0 1 2 3", "put bob 2 1", "go ann EN 2", "go bob S 1",
-                 "undo"):
+    for line in ("begin 2 1 1 01", "lay 0 3 0 3 on 1 0 1 5", "put ann 0 0 1 2 3", "put bob 2 1", "go ann EN 2",
+                 "go bob S 1", "undo"):
         console.run(line)
     return console
 
@@ -62,14 +62,17 @@ class AnswersTest(ConsoleCase):
     def test_each_line(self):
         self.answers(Console(), [
             ("begin 4 0 2 0101 1010", "ok"), ("show", "carpet 2 1 1 01"), ("names", "none"), ("steps", "0"),
-            ("put ann 3 -4", "ok"), ("put b 0 0 6 5 4", "ok"), ("names", "ann b"), ("where ann", "3 -4"), ("die ann", "none"),
+            ("put ann 3 -4", "ok"), ("put b 0 0 6 5 4", "ok"), ("names", "ann b"), ("where ann", "3 -4"),
+            ("die ann", "none"),
             ("die b", "6 5 4"), ("under ann", "1"), ("under b", "0"), ("go ann W 3", "ok"), ("go ann N 4", "ok"),
-            ("where ann", "0 0"), ("stood ann 0", "4"), ("stood ann 1", "4"), ("stood ann 7", "0"), ("stood ann 0 0", "1"),
-            ("stood ann 0 3", "7"), ("stood ann 0 4", "none"), ("go b E 2", "ok"), ("die b", "1 5 3"), ("met ann b", "0"),
-            ("met b b", "3"), ("steps", "5"), ("lay 0 * * 5 on 1 0 1 8", "ok"),
+            ("where ann", "0 0"), ("stood ann 0", "4"), ("stood ann 1", "4"), ("stood ann 7", "0"),
+            ("stood ann 0 0", "1"),
+            ("stood ann 0 3", "7"), ("stood ann 0 4", "none"), ("go b E 2", "ok"), ("die b", "1 5 3"),
+            ("met ann b", "0"), ("met b b", "3"), ("steps", "5"), ("lay 0 * * 5 on 1 0 1 8", "ok"),
             ("show", "carpet 2 1 1 01 / region 0 * * 5 / carpet 1 0 1 8"), ("under b", "8"), ("stood b 8", "3"),
             ("undo", "ok"), ("show", "carpet 2 1 1 01"), ("stood b 8", "0"), ("redo", "ok"), ("stood b 8", "3"),
-            ("lift", "ok"), ("show", "carpet 2 1 1 01"), ("take ann", "ok"), ("names", "b"), ("undo", "ok"), ("names", "ann b"),
+            ("lift", "ok"), ("show", "carpet 2 1 1 01"), ("take ann", "ok"), ("names", "b"), ("undo", "ok"),
+            ("names", "ann b"),
             ("steps", "7"), ("begin 1 0 1 3", "ok"), ("steps", "0"), ("names", "none"), ("show", "carpet 1 0 1 3")])
 
     def test_boxes(self):
@@ -77,7 +80,8 @@ class AnswersTest(ConsoleCase):
         self.answers(console, [
             ("begin 1 0 1 0", "ok"), ("lay on 1 0 1 4", "ok"), ("show", "carpet 1 0 1 0 / region / carpet 1 0 1 4"),
             ("lay 0 1 0 1 5 6 -1 * on 2 0 1 45", "ok"), ("lift", "ok"), ("lift", "ok"),
-            ("lay * * * * on 1 0 2 1 2", "ok"), ("show", "carpet 1 0 1 0 / region * * * * / carpet 1 0 2 1 2"), ("lift", "ok")])
+            ("lay * * * * on 1 0 2 1 2", "ok"), ("show", "carpet 1 0 1 0 / region * * * * / carpet 1 0 2 1 2"),
+            ("lift", "ok")])
         boxes = " ".join(f"{3 * at} {3 * at + 1} {at} {at + 2}" for at in range(60))
         console.run(f"lay {boxes} on 1 0 1 9")
         self.same(console.run("show").count(" "), 4 + 2 + 4 * 120 + 1 + 5)
@@ -95,9 +99,10 @@ class AnswersTest(ConsoleCase):
             pairs = [
                 (lay, lambda: live.lay(region, carpet)), ("lift", live.lift), ("undo", live.undo), ("redo", live.redo),
                 (f"put {name} {many} {-step} 1 2 3", lambda: live.put(name, (many, -step), (1, 2, 3))),
-                (f"put {name} {-many} {step}", lambda: live.put(name, (-many, step))), (f"take {name}", lambda: live.take(name)),
-                (f"go {name} {word} {many}", lambda: live.go(name, word, many)), ("undo", live.undo), ("redo", live.redo),
-                (f"go {name} {word[0]} {many}", lambda: live.go(name, word[0], many))]
+                (f"put {name} {-many} {step}", lambda: live.put(name, (-many, step))),
+                (f"take {name}", lambda: live.take(name)),
+                (f"go {name} {word} {many}", lambda: live.go(name, word, many)), ("undo", live.undo),
+                ("redo", live.redo), (f"go {name} {word[0]} {many}", lambda: live.go(name, word[0], many))]
             self.alike(console, *chance.choice(pairs))
             self.alike(console, "steps", lambda: str(live.steps()))
             self.alike(console, "names", lambda: " ".join(live.names()) or "none")
@@ -124,8 +129,8 @@ class AnswersTest(ConsoleCase):
 class RefusedTest(ConsoleCase):
     def test_without_a_live_floor(self):
         console = Console()
-        for line in ASKED + ["lay on 1 0 1 4", "lift", "put ann 0 0", "take ann", "go ann E 1", "undo", "redo", "", "begin",
-                             "begin 1 0 1 x", "begins 1 0 1 0"]:
+        for line in ASKED + ["lay on 1 0 1 4", "lift", "put ann 0 0", "take ann", "go ann E 1", "undo", "redo", "",
+                             "begin", "begin 1 0 1 x", "begins 1 0 1 0"]:
             self.bears(BadPart, "part", "line", console.run, line)
         self.bears(BadPart, "part", "b", console.run, "begin 1 1 1 0")
         self.bears(BadPart, "part", "line", console.run, "steps")
@@ -140,28 +145,35 @@ class RefusedTest(ConsoleCase):
                 self.bears(BadPart, "part", "line", console.run, line=value)
 
     def test_odd_lines(self):
-        good = ["begin 1 0 1 0", "lay 0 1 0 1 on 1 0 1 0", "put cat 0 0", "put cat 0 0 1 2 3", "take ann", "go ann E 1", "lift",
-                "undo", "redo"] + ASKED
+        good = ["begin 1 0 1 0", "lay 0 1 0 1 on 1 0 1 0", "put cat 0 0", "put cat 0 0 1 2 3", "take ann", "go ann E 1",
+                "lift", "undo", "redo"] + ASKED
         for line in good:
             begun().run(line)
             words = line.split(" ")
-            self.refused(BadPart, "part", "line", [" " + line, line + " ", line + "\n", line.upper(), "x" + line, line + " x",
-                                                   line + " *", words[0] + "  " + " ".join(words[1:])])
+            self.refused(BadPart, "part", "line", [" " + line, line + " ", line + "\n", line.upper(), "x" + line,
+                                                   line + " x", line + " *", words[0] + "  " + " ".join(words[1:])])
         self.refused(BadPart, "part", "line", [
-            "", " ", "on", "none", "ok", "carpet 1 0 1 0", "region", "show ann", "names ann", "steps 1", "lift 1", "undo 1",
-            "redo redo", "where", "where ann bob", "die", "die ann 1 2 3", "under", "under 0 0 0", "met", "met ann", "met ann bob c",
-            "take", "take ann bob", "begin", "begin 1 0", "begin carpet 1 0 1 0", "go", "go ann", "go ann E", "go ann 1 E", "go ann E 1 2",
+            "", " ", "on", "none", "ok", "carpet 1 0 1 0", "region", "show ann", "names ann", "steps 1", "lift 1",
+            "undo 1",
+            "redo redo", "where", "where ann bob", "die", "die ann 1 2 3", "under", "under 0 0 0", "met", "met ann",
+            "met ann bob c",
+            "take", "take ann bob", "begin", "begin 1 0", "begin carpet 1 0 1 0", "go", "go ann", "go ann E",
+            "go ann 1 E", "go ann E 1 2",
             "stood", "stood ann", "stood ann 0 0 0", "put", "put cat", "put cat 0", "put cat 0 0 1", "put cat 0 0 1 2",
-            "put cat 0 0 1 2 3 4", "lay", "lay on", "lay 0 1 0 1", "lay 0 1 0 on 1 0 1 0", "lay 0 1 0 1 on", "lay 1 0 1 0",
-            "lay on on 1 0 1 0", "lay 0 1 0 1 on on 1 0 1 0", "lay region on 1 0 1 0", "lay on 1 0 1 0 on", "lay on carpet 1 0 1 0",
-            "where ", "take ", "die ", "put  0 0", "met ann ", "met  ann", "stood  0", "go  E 1", "go ann  1", "names ", "n", "nii", "lay ann", "0", "__init__"])
+            "put cat 0 0 1 2 3 4", "lay", "lay on", "lay 0 1 0 1", "lay 0 1 0 on 1 0 1 0", "lay 0 1 0 1 on",
+            "lay 1 0 1 0",
+            "lay on on 1 0 1 0", "lay 0 1 0 1 on on 1 0 1 0", "lay region on 1 0 1 0", "lay on 1 0 1 0 on",
+            "lay on carpet 1 0 1 0",
+            "where ", "take ", "die ", "put  0 0", "met ann ", "met  ann", "stood  0", "go  E 1", "go ann  1", "names ",
+            "n", "nii", "lay ann", "0", "__init__"])
 
     def test_odd_words(self):
         for word in ("-0", "00", "01", "1.0", "x", "*", "1" * 61, "--1", "+1", "E"):
             self.refused(BadPart, "part", "line", [
-                f"put cat {word} 0", f"put cat 0 {word}", f"put cat 0 0 {word} 2 3", f"put cat 0 0 1 {word} 3", f"put cat 0 0 1 2 {word}",
-                f"go ann E {word}", f"stood ann {word}", f"stood ann 0 {word}", f"stood ann {word} 0", f"begin {word} 0 1 0",
-                f"begin 1 {word} 1 0", f"begin 1 0 {word} 0", f"lay on {word} 0 1 0"])
+                f"put cat {word} 0", f"put cat 0 {word}", f"put cat 0 0 {word} 2 3", f"put cat 0 0 1 {word} 3",
+                f"put cat 0 0 1 2 {word}",
+                f"go ann E {word}", f"stood ann {word}", f"stood ann 0 {word}", f"stood ann {word} 0",
+                f"begin {word} 0 1 0", f"begin 1 {word} 1 0", f"begin 1 0 {word} 0", f"lay on {word} 0 1 0"])
             if word != "*":
                 self.refused(BadPart, "part", "line", [f"lay {word} 5 0 1 on 1 0 1 0", f"lay 0 1 0 {word} on 1 0 1 0"])
         for word in ("e", "EX", "0", "5", "*", "-1", "en", "E,N"):
@@ -172,7 +184,8 @@ class RefusedTest(ConsoleCase):
 
     def test_as_the_calls_raise(self):
         for name in ("cat", "Ann", "a1", "0", "ninelongs", "*", "ann,"):
-            lines = [f"where {name}", f"die {name}", f"under {name}", f"stood {name} 0", f"stood {name} 10", f"stood {name} 0 -1",
+            lines = [f"where {name}", f"die {name}", f"under {name}", f"stood {name} 0", f"stood {name} 10",
+                     f"stood {name} 0 -1",
                      f"met {name} ann", f"met ann {name}", f"take {name}", f"go {name} E 1", f"go {name} E -1"]
             self.refused(BadName, "name", name, lines)
             if name != "cat":
@@ -219,8 +232,9 @@ class WholeTest(ConsoleCase):
     def test_great_numbers(self):
         console = Console()
         self.answers(console, [
-            ("begin 2 1 1 01", "ok"), (f"put ann -{LONG} {LONG}", "ok"), (f"go ann EES {LONG}", "ok"), ("where ann", f"{LONG} 0"),
-            (f"lay {10 ** 20} * 0 * on 1 0 1 6", "ok"), ("under ann", "6"), ("stood ann 6", str(3 * (LONG - 10 ** 20) // 2 + 2)),
+            ("begin 2 1 1 01", "ok"), (f"put ann -{LONG} {LONG}", "ok"), (f"go ann EES {LONG}", "ok"),
+            ("where ann", f"{LONG} 0"), (f"lay {10 ** 20} * 0 * on 1 0 1 6", "ok"), ("under ann", "6"),
+            ("stood ann 6", str(3 * (LONG - 10 ** 20) // 2 + 2)),
             ("stood ann 6 0", str(3 * (LONG + 10 ** 20) // 2 - 1))])
         region, carpet = Region([(10 ** 20, None, 0, None)]), plain(6)
         live = Live(Carpet(2, 1, 1, ["01"]))

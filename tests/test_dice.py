@@ -20,7 +20,8 @@ COMES_FROM = {
 
 def rolled_by_hand(die, text):
     """The die behind a text, all six sides moved step by step."""
-    told = {"top": die[0], "north": die[1], "east": die[2], "bottom": 7 - die[0], "south": 7 - die[1], "west": 7 - die[2]}
+    told = {"top": die[0], "north": die[1], "east": die[2], "bottom": 7 - die[0], "south": 7 - die[1],
+            "west": 7 - die[2]}
     for letter in text:
         told = {side: told[COMES_FROM[letter][side]] for side in told}
     return (told["top"], told["north"], told["east"])

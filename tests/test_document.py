@@ -6,9 +6,10 @@ import os
 import unittest
 
 from endlessplane import (
-    carpets, closed, console, countpapers, counts, cuts, dice, errors, floorcounts, floorparting, floors, inside, lasting,
-    laying, likeness, lines, live, meetings, meetpapers, motions, nthcells, nthstands, parting, periods, prints, regions,
-    sieves, stands, stretches, stripes, texts, unlike, walkforms, walks, windings, windpapers,
+    carpets, closed, console, countpapers, counts, cuts, dice, errors, floorcounts, floorparting, floors, inside,
+    lasting,
+    laying, likeness, lines, live, meetings, meetpapers, motions, nthcells, nthstands, parting, periods, prints,
+    regions, sieves, stands, stretches, stripes, texts, unlike, walkforms, walks, windings, windpapers,
 )
 from endlessplane.carpets import Carpet, plain
 from endlessplane.closed import enclosed

@@ -19,8 +19,8 @@ LONG = 10 ** 30
 DIE = (1, 2, 3)
 
 # Words that lead nowhere, that come back to their own cells later, thick ones, those that go one way alone.
-WORDS = ["E", "EW", "EN", "EEW", "EEWW", "ENWS", "ENWSE", "EEEWW", "NNNSSE", "ENENWS", "EEWNSW", "WWE", "EENWS", "ENWSENWS",
-         "NEWS", "EEEENWWWSE", "SSSSSNNNN", "EEEEEEEEEEEWWWWWWWWWWWWN"]
+WORDS = ["E", "EW", "EN", "EEW", "EEWW", "ENWS", "ENWSE", "EEEWW", "NNNSSE", "ENENWS", "EEWNSW", "WWE", "EENWS",
+         "ENWSENWS", "NEWS", "EEEENWWWSE", "SSSSSNNNN", "EEEEEEEEEEEWWWWWWWWWWWWN"]
 
 
 def last_by_hand(cell, word, times):
@@ -58,7 +58,8 @@ class RoundsTest(PlaneCase):
         self.same(rounds(times=0, word="EEW"), [0, 0, 0])
         self.same((rounds("EW", 4), rounds("EW", 1), rounds("EW", 0)), ([3, 3], [0, 0], [0, 0]))
         self.same((rounds("E", 7), rounds("ENWS", GREAT)), ([0], [GREAT - 1] * 4))
-        self.same((is_start_last("E", 5), is_start_last("EW", 1), is_start_last(times=0, word="EW")), (True, False, True))
+        self.same((is_start_last("E", 5), is_start_last("EW", 1), is_start_last(times=0, word="EW")),
+                  (True, False, True))
         # From (0, 0) this leads back there 2 rounds later, and not sooner.
         word = "W" * 5 + "E" * 7
         self.same([is_start_last(word, times) for times in (0, 1, 2, 3)], [True, False, False, False])
@@ -196,15 +197,16 @@ class LeftTest(PlaneCase):
 
 class PapersTest(PlaneCase):
     def test_bent(self):
-        for word, times, goal in (("EEW", 5, (1, 0)), ("EW", 3, (0, 0)), ("E", 4, (0, 0)), ("E", 4, (9, 9)), ("E", 0, (0, 0)),
-                                  ("ENWS", 2, (1, 1))):
+        for word, times, goal in (("EEW", 5, (1, 0)), ("EW", 3, (0, 0)), ("E", 4, (0, 0)), ("E", 4, (9, 9)),
+                                  ("E", 0, (0, 0)), ("ENWS", 2, (1, 1))):
             paper = left_paper((0, 0), word, times, goal, DIE)
             for i, k, face in itertools.product(range(-1, 7), range(-1, 6), range(0, 8)):
                 told = ("kept", i, k, face)
                 self.same(accepts_left((0, 0), word, times, goal, DIE, told), told == paper)
             self.same(accepts_left((0, 0), word, times, goal, DIE, ("never",)), paper == ("never",))
             for bent in (list(paper), paper + (0,), paper[:-1], (paper,), ("never", 0), (Everything(),), ("kept",) * 4,
-                         (Everything(),) + paper[1:], ("kept",) + (Everything(),) * 3, ("kept", 0, 0), (paper[0].upper(),)):
+                         (Everything(),) + paper[1:], ("kept",) + (Everything(),) * 3, ("kept", 0, 0),
+                         (paper[0].upper(),)):
                 self.same(accepts_left((0, 0), word, times, goal, DIE, bent), False)
             for bent in NO_PAPERS + [Everything(), Touchy(), (Touchy(),), ("kept", 0, 0, Touchy())]:
                 self.same(accepts_left((0, 0), word, times, goal, DIE, bent), False)

@@ -7,6 +7,7 @@ from endlessplane.errors import BadName, BadNumber, BadPart, NothingToUndo, TooM
 from endlessplane.floors import Floor
 from endlessplane.live import Live
 from endlessplane.meetings import many_meetings
+from endlessplane.prints import die_at
 from endlessplane.regions import Region
 from endlessplane.stands import floor_stands
 from endlessplane.walkforms import are_same
@@ -19,8 +20,8 @@ from tests.test_dice import rolled_by_hand
 
 LONG = 10 ** 30
 NAMES = ["ann", "b", "zzzzzzzz", "cat", "dog", "eel", "fox"]
-NO_NAMES = [None, True, 5, "", "Ann", "a1", "ninelongs", "a b", " ann", "ann ", "ann\n", "a-b", b"ann", ["ann"], ("ann",), {},
-            Everything(), Touchy(), object()]
+NO_NAMES = [None, True, 5, "", "Ann", "a1", "ninelongs", "a b", " ann", "ann ", "ann\n", "a-b", b"ann", ["ann"],
+            ("ann",), {}, Everything(), Touchy(), object()]
 
 
 def told(live):
@@ -101,7 +102,8 @@ class WalkersTest(LiveCase):
         for index, name in enumerate(NAMES[:6]):
             die = (1, 2, 3) if index % 2 else None
             self.assertIsNone(live.put(name, (index, -index), die))
-            self.same((live.walk_of(name), live.where(name), live.die_of(name)), (Walk((index, -index)), (index, -index), die))
+            self.same((live.walk_of(name), live.where(name), live.die_of(name)), (Walk((index, -index)),
+                                                                                  (index, -index), die))
             self.same(live.colour_under(name), 0)
             self.same((live.names(), live.steps()), (NAMES[:index + 1], index + 1))
         self.changes_nothing(TooMany, "limit", 6, live, live.put, "fox", (0, 0))
@@ -120,8 +122,10 @@ class WalkersTest(LiveCase):
         self.same(live.walk_of("ann"), Walk((0, 0), [("EN", 4)]))
         self.same((live.where("ann"), live.colour_under("ann")), ((4, 4), 0))
         self.same(live.die_of("ann"), rolled_by_hand((1, 2, 3), "EN" * 4))
-        for word, times, parts in (("EN", 3, [("EN", 7)]), ("EN", 0, [("EN", 7)]), ("ENEN", 1, [("EN", 7), ("ENEN", 1)]),
-                                   ("W", 0, [("EN", 7), ("ENEN", 1), ("W", 0)]), ("W", 1, [("EN", 7), ("ENEN", 1), ("W", 1)])):
+        for word, times, parts in (("EN", 3, [("EN", 7)]), ("EN", 0, [("EN", 7)]),
+                                   ("ENEN", 1, [("EN", 7), ("ENEN", 1)]),
+                                   ("W", 0, [("EN", 7), ("ENEN", 1), ("W", 0)]), ("W", 1,
+                                                                                  [("EN", 7), ("ENEN", 1), ("W", 1)])):
             steps = live.steps()
             self.assertIsNone(live.go("ann", word, times))
             self.same(live.walk_of("ann"), Walk((0, 0), parts))
@@ -207,6 +211,71 @@ class AskedTest(LiveCase):
             self.same(live.where(name), cells[-1])
             self.same(live.colour_under(name), floor.colour(cells[-1]))
 
+    def test_beside_what_is_told_at_once(self):
+        chance, words = random.Random(407), some_words(408, 400, 3)
+        regions, carpets = some_regions(409, 60, (None,)), some_carpets(410, 60, (1, 2, 3))
+        live, history, at = Live(CHESS), [([], {})], 0
+        refused = 0
+        for step in range(250):
+            layers, walkers = history[at]
+            name, word, times = chance.choice(NAMES[:3]), words.pop(), chance.choice([0, 1, 3, LONG])
+            deed = chance.choice(["lay", "lift", "put", "take", "go", "go", "go", "undo", "undo", "redo"])
+            region, carpet, cell = regions[step % 60], carpets[step % 60], (chance.randrange(-3, 4),
+                                                                            chance.randrange(-3, 4))
+            calls = {"lay": lambda: live.lay(region, carpet), "lift": live.lift, "put": lambda: live.put(name, cell,
+                                                                                                         (1, 2, 3)),
+                     "take": lambda: live.take(name), "go": lambda: live.go(name, word, times), "undo": live.undo,
+                     "redo": live.redo}
+            after = self.told_behind(deed, layers, walkers, (region, carpet), name, cell, word, times)
+            if deed in ("undo", "redo"):
+                goal = at + (1 if deed == "redo" else -1)
+                after = history[goal] if 0 <= goal < len(history) else None
+            if after is None:
+                refused += 1
+                with self.assertRaises((ValueError, RuntimeError, OverflowError)):
+                    calls[deed]()
+            else:
+                calls[deed]()
+                at = goal if deed in ("undo", "redo") else at + 1
+                history = history if deed in ("undo", "redo") else history[:at] + [after]
+            self.compare(live, *history[at])
+            self.same(live.steps(), at)
+        self.assertGreater(refused, 20)
+
+    def told_behind(self, deed, layers, walkers, layer, name, cell, word, times):
+        """The layers and the walkers, told as a list and a dict, behind a deed, None if it is refused."""
+        if deed == "lay":
+            return (layers + [layer], walkers) if len(layers) < 6 else None
+        if deed == "lift":
+            return (layers[:-1], walkers) if layers else None
+        if deed == "put":
+            return (layers, {**walkers, name: (cell, [])}) if name not in walkers else None
+        if name not in walkers:
+            return None
+        if deed == "take":
+            return layers, {other: told for other, told in walkers.items() if other != name}
+        begun, parts = walkers[name]
+        if parts and parts[-1][0] == word:
+            parts = parts[:-1] + [(word, parts[-1][1] + times)]
+        elif len(parts) == 6:
+            return None
+        else:
+            parts = parts + [(word, times)]
+        return layers, {**walkers, name: (begun, parts)}
+
+    def compare(self, live, layers, walkers):
+        """Check a live floor beside a floor and walks that are told at once."""
+        floor = Floor(CHESS, layers)
+        self.same((live.now(), live.names()), (floor, list(walkers)))
+        walks = {name: Walk(cell, parts) for name, (cell, parts) in walkers.items()}
+        for name, walk in walks.items():
+            self.same((live.walk_of(name), live.where(name)), (walk, walk.goal()))
+            self.same(live.colour_under(name), floor.colour(walk.goal()))
+            self.same(live.die_of(name), die_at(walk, (1, 2, 3), walk.end()))
+            self.same(live.stood(name, 0), floor_stands(walk, ~Region(), floor, 0))
+        for name in list(walks)[1:]:
+            self.same(live.met(list(walks)[0], name), many_meetings(walks[list(walks)[0]], walks[name]))
+
     def test_great_numbers(self):
         live = Live(CHESS)
         live.put("ann", (0, 0))
@@ -229,7 +298,8 @@ class StepsTest(LiveCase):
     def deeds(self):
         """One deed of each kind."""
         return [
-            lambda live: live.lay(THREE, COLUMNS), lambda live: live.lift(), lambda live: live.put("cat", (5, 5), (1, 2, 3)),
+            lambda live: live.lay(THREE, COLUMNS), lambda live: live.lift(), lambda live: live.put("cat", (5, 5),
+                                                                                                   (1, 2, 3)),
             lambda live: live.take("bob"), lambda live: live.go("ann", "EN", 3), lambda live: live.go("ann", "W", 0),
             lambda live: live.go("ann", "W", 0), lambda live: live.take("ann"), lambda live: live.put("ann", (1, 1)),
         ]
@@ -432,8 +502,10 @@ class TwinsTest(LiveCase):
         one = made(("ann", (0, 0)), ("bob", (1, 1), (1, 2, 3)))
         self.same(one == made(("ann", (0, 0)), ("bob", (1, 1), (1, 2, 3))), True)
         for other in (made(("bob", (1, 1), (1, 2, 3)), ("ann", (0, 0))), made(("ann", (0, 0))), made(),
-                      made(("ann", (0, 0)), ("bob", (1, 1))), made(("ann", (0, 0), (1, 2, 3)), ("bob", (1, 1), (1, 2, 3))),
-                      made(("ann", (0, 0)), ("bob", (1, 1), (1, 3, 2))), made(("ann", (0, 1)), ("bob", (1, 1), (1, 2, 3))),
+                      made(("ann", (0, 0)), ("bob", (1, 1))), made(("ann", (0, 0), (1, 2, 3)),
+                                                                   ("bob", (1, 1), (1, 2, 3))),
+                      made(("ann", (0, 0)), ("bob", (1, 1), (1, 3, 2))), made(("ann", (0, 1)),
+                                                                              ("bob", (1, 1), (1, 2, 3))),
                       made(("ann", (0, 0)), ("bill", (1, 1), (1, 2, 3)))):
             self.assertFalse(one == other)
             self.assertTrue(one != other)

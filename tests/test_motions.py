@@ -126,7 +126,8 @@ class CarpetsTest(PlaneCase):
             self.same(moved_carpet(motion.reversed_motion(), moved), carpet)
 
     def test_great_ones(self):
-        for carpet, motion in itertools.product((SLANTED, SPARSE, Carpet(48, 7, 3, ["0" * 48, "1" * 48, "01" * 24])), MOTIONS):
+        for carpet, motion in itertools.product((SLANTED, SPARSE, Carpet(48, 7, 3, ["0" * 48, "1" * 48, "01" * 24])),
+                                                MOTIONS):
             moved = moved_carpet(carpet=carpet, motion=motion)
             self.same((moved.a, moved.b, moved.d, moved.rows), moved.normal())
             for cell in CELLS[::7] + [(GREAT, -GREAT)]:
@@ -186,7 +187,8 @@ class WalksTest(PlaneCase):
         for walk, motion in itertools.product(walks, MOTIONS):
             moved = moved_walk(motion, walk)
             self.same(cells_walked(moved), [led_by_hand(motion, cell) for cell in cells_walked(walk)])
-            self.same([(len(word), times) for word, times in moved.parts], [(len(word), times) for word, times in walk.parts])
+            self.same([(len(word), times) for word, times in moved.parts], [(len(word), times) for word,
+                                                                            times in walk.parts])
             self.same(moved_walk(walk=moved, motion=motion.reversed_motion()), walk)
 
     def test_great_ones(self):
@@ -244,7 +246,9 @@ class DiceTest(PlaneCase):
         for walk, motion in itertools.product(some_walks(356, 6), SHORT):
             moved = moved_walk(motion, walk)
             for (word, times), (turned, _) in zip(walk.parts, moved.parts):
-                self.same(rolled(moved_die(motion, (5, 1, 3)), turned, times), moved_die(motion, rolled((5, 1, 3), word, times)))
+                self.same(rolled(moved_die(motion, (5, 1, 3)), turned, times), moved_die(motion,
+                                                                                         rolled((5, 1, 3), word,
+                                                                                                times)))
 
 
 class SameOfWhatIsMovedTest(PlaneCase):
@@ -285,7 +289,8 @@ class WrongArgumentsTest(PlaneCase):
         motion = Motion("left", (3, 4))
         for function, name, value in (
                 (moved_carpet, "carpet", CHESS), (moved_region, "region", THREE), (moved_floor, "floor", Floor(CHESS)),
-                (moved_walk, "walk", Walk((0, 0))), (moved_closed, "walk", Walk((0, 0))), (moved_die, "die", (1, 2, 3))):
+                (moved_walk, "walk", Walk((0, 0))), (moved_closed, "walk", Walk((0, 0))),
+                (moved_die, "die", (1, 2, 3))):
             self.refuses(function, {"motion": motion, name: value})
         for walk in OPEN:
             for motion in MOTIONS:

@@ -17,7 +17,8 @@ from tests.test_dice import rolled_by_hand
 LONG = 10 ** 30
 DIE = (1, 2, 3)
 WALKS = some_walks(331, 24, 6, 6, 5) + [
-    Walk((2, -3)), Walk((0, 0), [("E", 0)]), Walk((0, 0), [("EN", 12), ("W", 0), ("S", 7)]), Walk((0, 0), [("ENWS", 9)]),
+    Walk((2, -3)), Walk((0, 0), [("E", 0)]), Walk((0, 0), [("EN", 12), ("W", 0), ("S", 7)]),
+    Walk((0, 0), [("ENWS", 9)]),
     Walk((1, 1), [("E" * 9 + "N" * 9, 2)]), told_again(Walk((0, 0), [("EEN", 3), ("WS", 4), ("N", 2)]), 3),
 ]
 PLACES = list(zip(

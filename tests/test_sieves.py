@@ -58,7 +58,8 @@ class SieveTest(PlaneCase):
             self.same((sieve.is_left(x), sieve.place_of(x), sieve.nth_left(x), sieve.left_below(x), sieve.next_left(x)),
                       (True, x, x, x, x))
         for x in (-1, -GREAT):
-            self.same((sieve.is_left(x), sieve.place_of(x), sieve.left_below(x), sieve.next_left(x)), (False, None, 0, 0))
+            self.same((sieve.is_left(x), sieve.place_of(x), sieve.left_below(x), sieve.next_left(x)),
+                      (False, None, 0, 0))
 
     def test_great_numbers(self):
         for ks in ROWS:

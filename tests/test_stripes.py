@@ -66,7 +66,8 @@ class StripesTest(PlaneCase):
         sieve = Sieve([2])
         for box, wanted in (
                 ((0, None, 0, 1), [None, 0]), ((None, None, 0, 1), [None, 0]), ((None, 5, 0, 1), [3, 0]),
-                ((None, 0, None, None), [0, 0]), ((None, 5, None, None), [None, None]), ((0, 1, None, None), [None, None]),
+                ((None, 0, None, None), [0, 0]), ((None, 5, None, None), [None, None]),
+                ((0, 1, None, None), [None, None]),
                 ((1, 2, None, None), [0, 0]), ((0, None, 1, 2), [0, None]), ((None, None, 0, 2), [None, None]),
                 ((None, 5, 0, 4), [6, 6]), ((None, None, None, None), [None, None]), ((0, 3, None, 2), [None, None]),
                 ((0, 3, 2, None), [None, None]), ((-9, -1, None, 2), [0, 0])):
@@ -125,7 +126,8 @@ class StripesTest(PlaneCase):
         self.same(striped_counts(region=Region([(0, 20000, 0, 1)]), **least)[:5],
                   [len(striped_by_hand(least["carpet"], least["sieve"], Region([(0, 20000, 0, 1)]), colour))
                    for colour in range(5)])
-        for carpet, ks in ((SLANTED, [9, 9, 2]), (plain(0), [9, 9, 9, 9, 4]), (Carpet(5, 0, 1, ["01234"]), [5, 5, 5, 5, 8]),
+        for carpet, ks in ((SLANTED, [9, 9, 2]), (plain(0), [9, 9, 9, 9, 4]), (Carpet(5, 0, 1, ["01234"]),
+                                                                               [5, 5, 5, 5, 8]),
                            (plain(0), [9] * 5), (Carpet(7, 0, 1, ["0000001"]), [7, 7, 7, 9])):
             sieve = Sieve(ks)
             self.assertGreater(stripe_of(carpet, sieve), 20000)

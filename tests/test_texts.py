@@ -23,8 +23,8 @@ READERS = (read_carpet, read_region, read_floor, read_walk, read_die)
 NO_STRINGS = [None, True, 5, b"die 1 2 3", ["die 1 2 3"], ("walk 0 0",), {}, Everything(), Touchy()]
 
 # Words that are no integer words.
-NO_INTEGER_WORDS = ["-0", "00", "01", "-01", "-", "--1", "+1", "1-", "a", "1a", "", "1.0", "1_0", "1" * 61, "-" + "1" * 61,
-                    "*", "E", "0x1", "1,", "None"]
+NO_INTEGER_WORDS = ["-0", "00", "01", "-01", "-", "--1", "+1", "1-", "a", "1a", "", "1.0", "1_0", "1" * 61,
+                    "-" + "1" * 61, "*", "E", "0x1", "1,", "None"]
 
 # Lines that have no form of any kind.
 NO_LINES = ["", " ", "carpets 1 0 1 0", "Region", "floor", "walks 0 0", "dice 1 2 3", "DIE 1 2 3", "1 0 1 0", "carpet",
@@ -144,7 +144,8 @@ class ReadTest(PlaneCase):
                      "carpet * 0 1 0", "carpet 2 0 1 0 a", "carpet 2 0 1 01 E"):
             self.bears(BadText, "line", 0, read_carpet, line)
             self.bears(BadText, "line", 0, read_floor, line)
-        for line in ("walk 0", "walk 0 0 E", "walk 0 0 E 5 N", "walk 0 0 5", "walk 0 0 5 E", "walk 0 0 e 5", "walk 0 0 EX 5",
+        for line in ("walk 0", "walk 0 0 E", "walk 0 0 E 5 N", "walk 0 0 5", "walk 0 0 5 E", "walk 0 0 e 5",
+                     "walk 0 0 EX 5",
                      "walk 0 0 0 5", "walk 0 0 E E", "walk * 0", "walk 0 0 E 05", "walk 0 0 E *", "walk 0 0 E 5 5"):
             self.bears(BadText, "line", 0, read_walk, line)
         for line in ("walk 0 0  5", "walk 0 0 E ", "walk  0 0", "walk 0 0 "):
@@ -157,7 +158,8 @@ class ReadTest(PlaneCase):
             self.bears(BadText, "line", 0, read_die, line)
 
     def test_what_cannot_be_made(self):
-        for line, part in (("carpet 0 0 1", "a"), ("carpet -1 -7 1", "a"), ("carpet 2 2 1 01", "b"), ("carpet 2 -1 1 01", "b"),
+        for line, part in (("carpet 0 0 1", "a"), ("carpet -1 -7 1", "a"), ("carpet 2 2 1 01", "b"),
+                           ("carpet 2 -1 1 01", "b"),
                            ("carpet 1 0 0", "d"), ("carpet 1 0 -5 0", "d"), ("carpet 2 0 1", "rows"),
                            ("carpet 2 0 1 01 01", "rows"), ("carpet 1 0 2 0", "rows")):
             self.bears(BadPart, "part", part, read_carpet, line)

@@ -27,28 +27,35 @@ BOX = Region([(0, 3, -1, 4)])
 AROUND = Walk((0, 0), [("E", 3), ("N", 2), ("W", 3), ("S", 2)])
 FLOOR = Floor(CHESS, [(BOX, plain(3)), (~BOX, COLUMNS)])
 PAIRS = {
-    "lines": (12, 18), "periods": (Lattice(4, 2, 3), Lattice(6, 1, 2)), "parting": (CHESS, COLUMNS), "laying": (CHESS, COLUMNS),
-    "cuts": (BOX, Region([(0, 4, 0, 1)])), "floorparting": (FLOOR, Floor(CHESS)), "walkforms": (AROUND, Walk((0, 0), [("EN", 4)])),
+    "lines": (12, 18), "periods": (Lattice(4, 2, 3), Lattice(6, 1, 2)), "parting": (CHESS, COLUMNS),
+    "laying": (CHESS, COLUMNS), "cuts": (BOX, Region([(0, 4, 0, 1)])), "floorparting": (FLOOR, Floor(CHESS)),
+    "walkforms": (AROUND, Walk((0, 0), [("EN", 4)])),
     "meetings": (AROUND, Walk((0, 0), [("EN", 4)])), "meetpapers": (AROUND, Walk((0, 0), [("EN", 4)])),
     "likeness": (COLUMNS, Carpet(1, 0, 2, ["1", "0"])),
 }
-TEXTS = {"read_carpet": "carpet 2 1 1 01", "read_region": "region 0 * 1 2", "read_floor": "carpet 1 0 1 0\nregion\ncarpet 2 1 1 01",
+TEXTS = {"read_carpet": "carpet 2 1 1 01", "read_region": "region 0 * 1 2",
+         "read_floor": "carpet 1 0 1 0\nregion\ncarpet 2 1 1 01",
          "read_walk": "walk 0 0 EN 7", "read_die": "die 1 2 3"}
 
 
 def samples():
     """For the name of an argument a right value; lists are handed in as lists."""
     return {
-        "a": 1, "b": 2, "r": 1, "p": 3, "number": 5, "stretch": Stretch(-4, 9), "cell": (1, 1), "step": (1, 0), "box": (0, 5, 0, 5),
-        "goal": (2, 1), "shift": (1, 3), "colour": 1, "lattice": Lattice(2, 1, 1), "colour_of": lambda cell: sum(cell) % 2,
-        "carpet": CHESS, "value": None, "colours": [1, 0, 2, 3, 4, 5, 6, 7, 8, 9], "table": [[0] * 10 for _ in range(10)],
-        "carpets": [CHESS, COLUMNS], "clear": [0], "index": 1, "slabs": ((0, 1, ((0, 2),)),), "region": BOX, "y": 1, "n": 0,
-        "regions": [BOX, Region([(None, 2, 1, 2)])], "block": ((0, 2, 0, 2), 1, 1), "floor": FLOOR, "level": 1, "word": "ENWS",
-        "walk": AROUND, "moment": 3, "first": 1, "last": 5, "times": 3, "lead": 1, "ground": FLOOR, "corner": (0, 0), "die": (1, 2, 3),
+        "a": 1, "b": 2, "r": 1, "p": 3, "number": 5, "stretch": Stretch(-4, 9), "cell": (1, 1), "step": (1, 0),
+        "box": (0, 5, 0, 5), "goal": (2, 1), "shift": (1, 3), "colour": 1, "lattice": Lattice(2, 1, 1),
+        "colour_of": lambda cell: sum(cell) % 2,
+        "carpet": CHESS, "value": None, "colours": [1, 0, 2, 3, 4, 5, 6, 7, 8, 9],
+        "table": [[0] * 10 for _ in range(10)],
+        "carpets": [CHESS, COLUMNS], "clear": [0], "index": 1, "slabs": ((0, 1, ((0, 2),)),), "region": BOX, "y": 1,
+        "n": 0, "regions": [BOX, Region([(None, 2, 1, 2)])], "block": ((0, 2, 0, 2), 1, 1), "floor": FLOOR, "level": 1,
+        "word": "ENWS",
+        "walk": AROUND, "moment": 3, "first": 1, "last": 5, "times": 3, "lead": 1, "ground": FLOOR, "corner": (0, 0),
+        "die": (1, 2, 3),
         "face": 6, "start": (0, 0), "motion": Motion("left", (1, 2)), "sieve": Sieve([2, 3]), "d": 1, "rows": ["0"],
-        "text": "EN", "boxes": [(0, 2, 0, 2), (1, None, 0, 1)], "ground_carpet": CHESS, "layers": [(BOX, COLUMNS)], "low": 0, "high": 5,
-        "stretches": [Stretch(0, 3), Stretch(2, 9)], "by": 4, "parts": [("EN", 3), ("W", 2)], "turn": "left", "ks": [2, 3], "x": 7,
-        "name": "ann", "deed": lambda live: live.names(), "line": "names",
+        "text": "EN", "boxes": [(0, 2, 0, 2), (1, None, 0, 1)], "ground_carpet": CHESS, "layers": [(BOX, COLUMNS)],
+        "low": 0, "high": 5,
+        "stretches": [Stretch(0, 3), Stretch(2, 9)], "by": 4, "parts": [("EN", 3), ("W", 2)], "turn": "left",
+        "ks": [2, 3], "x": 7, "name": "ann", "deed": lambda live: live.names(), "line": "names",
     }
 
 
@@ -144,7 +151,8 @@ class WholeTest(PlaneCase):
                         continue
                     told = self.objects()[name]
                     names, only = names_of(wanted)
-                    values = {**arguments("", method, names), **{key: others.get(name) for key in names if key == "other"}}
+                    values = {**arguments("", method, names),
+                              **{key: others.get(name) for key in names if key == "other"}}
                     with self.subTest(f"{name}.{method}"):
                         ahead = frozen(told)
                         self.check(getattr(told, method), values, only)
@@ -154,8 +162,10 @@ class WholeTest(PlaneCase):
 
     def test_objects_keep_no_lists(self):
         for made, lists in (
-                (lambda told: Spread(told[0]), [[Stretch(0, 3), Stretch(5, 9)]]), (lambda told: Carpet(2, 0, 2, told[0]), [["01", "11"]]),
-                (lambda told: Region(told[0]), [[(0, 1, 0, 1), (4, 5, 0, 1)]]), (lambda told: Floor(CHESS, told[0]), [[(BOX, COLUMNS)]]),
+                (lambda told: Spread(told[0]), [[Stretch(0, 3), Stretch(5, 9)]]),
+                (lambda told: Carpet(2, 0, 2, told[0]), [["01", "11"]]),
+                (lambda told: Region(told[0]), [[(0, 1, 0, 1), (4, 5, 0, 1)]]), (lambda told: Floor(CHESS, told[0]),
+                                                                                 [[(BOX, COLUMNS)]]),
                 (lambda told: Walk((0, 0), told[0]), [[("EN", 4)]]), (lambda told: Sieve(told[0]), [[2, 3, 4]])):
             one = made(lists)
             ahead = frozen(one)
@@ -187,14 +197,17 @@ class WholeTest(PlaneCase):
 
     def test_all_errors_are_of_the_package(self):
         for value in (None, "", [], object()):
-            for call in (lambda: Carpet(value, 0, 1, ["0"]), lambda: Region(value or None), lambda: Walk(value), lambda: Motion(value),
-                         lambda: Sieve(value or None), lambda: Trail(value, "E", 1), lambda: Floor(value), lambda: Live(value)):
+            for call in (lambda: Carpet(value, 0, 1, ["0"]), lambda: Region(value or None), lambda: Walk(value),
+                         lambda: Motion(value),
+                         lambda: Sieve(value or None), lambda: Trail(value, "E", 1), lambda: Floor(value),
+                         lambda: Live(value)):
                 with self.assertRaises(PlaneError):
                     call()
 
     def test_papers_of_all_kinds(self):
         # What a paper holds is tuples and dicts of integers and strings, whoever asks for it.
-        papers = [likeness_paper(CHESS, COLUMNS), least_paper(CHESS), rows_of_stands(AROUND, BOX), meet_paper(AROUND, backwards(AROUND)),
+        papers = [likeness_paper(CHESS, COLUMNS), least_paper(CHESS), rows_of_stands(AROUND, BOX),
+                  meet_paper(AROUND, backwards(AROUND)),
                   word_paper("ENWS"), winding_paper(AROUND, (1, 1)), left_paper((0, 0), "EN", 3, (1, 1), (1, 2, 3))]
         for paper in papers:
             self.assertIsInstance(paper, tuple)

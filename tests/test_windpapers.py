@@ -63,7 +63,8 @@ class WordPaperTest(PlaneCase):
         self.same(word_paper(word="NESW"), ("inside", -1, ((0, 1, 0, 1),)))
         self.same(word_paper("EENNWSWS"), ("inside", 1, ((0, 2, 0, 1), (1, 2, 1, 2))))
         self.same(word_paper("ENWNESSSWWNE"), ("twice", 2, 6))
-        self.same((word_paper("EW"), word_paper("SN"), word_paper("EWEW")), (("short", 2), ("short", 2), ("twice", 0, 2)))
+        self.same((word_paper("EW"), word_paper("SN"), word_paper("EWEW")), (("short", 2), ("short", 2),
+                                                                             ("twice", 0, 2)))
         self.same((word_paper("E"), word_paper("EEN"), word_paper("S" * 24)),
                   (("open", (1, 0)), ("open", (2, 1)), ("open", (0, -24))))
         self.same((word_paper("EENWSW"), word_paper("ENSW"), word_paper("ENWSENWS")),
