@@ -4,7 +4,7 @@ from endlessplane.basics import require_from, require_pair
 from endlessplane.carpets import require_carpet
 from endlessplane.counts import ColourRows, count_of, require_finite_counted, slab_count
 from endlessplane.cuts import require_finite
-from endlessplane.regions import Region, require_region
+from endlessplane.regions import Region
 
 
 def nth_of_colour(carpet, region, colour, n):

@@ -6,7 +6,7 @@ from endlessplane.cuts import boxes_of
 from endlessplane.dice import is_die, require_die
 from endlessplane.errors import BadIndex, BadPart, BadText
 from endlessplane.floors import Floor, require_floor
-from endlessplane.regions import MadeSlabs, Region, require_region, slabs_of_boxes
+from endlessplane.regions import MadeSlabs, Region, slabs_of_boxes
 from endlessplane.walks import STEPS, Walk, require_walk
 
 MOST_FIGURES = 60

@@ -2,7 +2,7 @@
 
 import unittest
 
-from endlessplane.carpets import Carpet, plain
+from endlessplane.carpets import plain
 from endlessplane.counts import count_of
 from endlessplane.cuts import cells_of, size_of
 from endlessplane.floorcounts import census, floor_count, floor_nth, floor_place

@@ -3,7 +3,7 @@
 import random
 import unittest
 
-from endlessplane.carpets import Carpet, plain
+from endlessplane.carpets import plain
 from endlessplane.counts import count_of
 from endlessplane.errors import BadNumber, BadPart
 from endlessplane.floors import Floor
@@ -14,7 +14,7 @@ from endlessplane.stands import (
 from endlessplane.walks import Walk
 from tests.helpers import (
     CHESS, COLUMNS, GREAT, NO_CARPETS, NO_COLOURS, NO_NUMBERS, NO_PAPERS, NO_REGIONS, NO_WALKS, SLANTED, SPARSE, THREE,
-    Everything, PlaneCase, Touchy, cell_region, cells_walked, moments_in, some_carpets, some_floors, some_regions,
+    Everything, PlaneCase, Touchy, cells_walked, moments_in, some_carpets, some_floors, some_regions,
     some_walks,
 )
 
